@@ -1,0 +1,1 @@
+"""Sharebags: bags of beads that are poured together and parted."""

@@ -1,0 +1,74 @@
+"""Checks of the values that are passed to the functions of the package."""
+
+from sharebags.bars import first_bar
+from sharebags.errors import BadBags, BadFamily, OtherBeads, TooMany
+from sharebags.pourings import bead_count
+
+MOST_BEADS = 60
+MOST_LISTED = 500
+
+
+def is_integer(value):
+    """Whether a value is an integer; True and False are none, though Python takes them for integers."""
+    return isinstance(value, int) and not isinstance(value, bool)
+
+
+def is_between(value, least, most):
+    """Whether a value is an integer from least to most."""
+    return is_integer(value) and least <= value <= most
+
+
+def is_ascending(items):
+    """Whether each item is below the one behind it."""
+    return all(items[k] < items[k + 1] for k in range(len(items) - 1))
+
+
+def is_bead_tuple(value):
+    """Whether a value is an ascending tuple of beads, or the empty one."""
+    if not isinstance(value, tuple):
+        return False
+    return all(is_between(bead, 0, MOST_BEADS - 1) for bead in value) and is_ascending(value)
+
+
+def is_bag(value):
+    """Whether a value is an ascending tuple of two beads or more."""
+    return is_bead_tuple(value) and len(value) >= 2
+
+
+def are_bags(value):
+    """Whether a value is an ascending tuple of different bags, one at least."""
+    if not isinstance(value, tuple) or not value:
+        return False
+    return all(is_bag(bag) for bag in value) and is_ascending(value)
+
+
+def makes_family(value):
+    """Whether any value is a family."""
+    return are_bags(value) and first_bar(value) is None
+
+
+def check_bags(value):
+    """Raise BadBags for a value that is not bags."""
+    if not are_bags(value):
+        raise BadBags()
+
+
+def check_family(value):
+    """Raise BadBags for a value that is not bags, BadFamily for bags that are no family."""
+    check_bags(value)
+    if first_bar(value) is not None:
+        raise BadFamily()
+
+
+def check_families(one, other):
+    """Raise the errors of two families, then OtherBeads if they have different numbers of beads."""
+    check_family(one)
+    check_family(other)
+    if bead_count(one) != bead_count(other):
+        raise OtherBeads()
+
+
+def check_listed(many):
+    """Raise TooMany if a list would have more members than are listed."""
+    if many > MOST_LISTED:
+        raise TooMany(MOST_LISTED)

@@ -1,0 +1,86 @@
+"""Pouring and parting in families that are known to be families."""
+
+from sharebags.masks import lies_within, mask_of, masks_of
+
+
+def bead_count(family):
+    """The number of beads of a family."""
+    return max(bag[-1] for bag in family) + 1
+
+
+def sharing_pairs(family):
+    """The ascending tuple of the ascending pairs of indexes of bags that share a bead."""
+    masks = masks_of(family)
+    many = len(masks)
+    return tuple((i, j) for i in range(many) for j in range(i + 1, many) if masks[i] & masks[j])
+
+
+def poured_together(family, indexes):
+    """The family with the bags with some indexes poured into one."""
+    whole = tuple(sorted({bead for k in indexes for bead in family[k]}))
+    others = [family[k] for k in range(len(family)) if k not in indexes]
+    return tuple(sorted([*others, whole]))
+
+
+def parted_at(family, index, bead, side):
+    """The family with a bag parted into the bag of bead and side, and that of bead and the others."""
+    bag = family[index]
+    first = tuple(sorted([bead, *side]))
+    second = tuple(other for other in bag if other not in side)
+    return tuple(sorted([*family[:index], first, second, *family[index + 1:]]))
+
+
+def lies_below(fine, coarse):
+    """Whether each bag of fine lies in a bag of coarse."""
+    wholes = masks_of(coarse)
+    return all(lies_within(mask_of(bag), wholes) for bag in fine)
+
+
+def bags_on_ways(family, start):
+    """For each bead the list of the indexes of the bags on the way to it from a bead."""
+    ways = {start: []}
+    fresh = [start]
+    while fresh:
+        bead = fresh.pop()
+        for index, bag in enumerate(family):
+            if bead in bag:
+                for neighbor in bag:
+                    # In a tree the first way that comes to a bead is the only one.
+                    if neighbor not in ways:
+                        ways[neighbor] = [*ways[bead], index]
+                        fresh.append(neighbor)
+    return ways
+
+
+def with_bag_inside(family, bag):
+    """The finest coarser family in which a bag lies in one bag."""
+    ways = bags_on_ways(family, bag[0])
+    # A coarser family with two beads in one bag has all bags on the way between them in that bag.
+    return poured_together(family, sorted({index for bead in bag for index in ways[bead]}))
+
+
+def finest_above(one, other):
+    """The finest family that is coarser than two families."""
+    grown = one
+    for bag in other:
+        grown = with_bag_inside(grown, bag)
+    return grown
+
+
+def poured_once_below(family, coarse):
+    """A family that comes by one pouring from a family and is finer than coarse, itself if there is none."""
+    masks = masks_of(family)
+    for whole in masks_of(coarse):
+        inside = [k for k in range(len(masks)) if lies_within(masks[k], [whole])]
+        for k in inside[1:]:
+            if masks[inside[0]] & masks[k]:
+                return poured_together(family, (inside[0], k))
+    return family
+
+
+def climb(fine, coarse):
+    """The list of the families on a way of pourings from fine to coarse, both included."""
+    families = [fine]
+    while len(families[-1]) > len(coarse):
+        families.append(poured_once_below(families[-1], coarse))
+    return families
