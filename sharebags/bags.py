@@ -1,9 +1,9 @@
 """Families of bags, and the moves that lead from one to another: pouring and parting."""
 
 from sharebags.bars import first_bar
-from sharebags.checks import MOST_BEADS, check_bags, check_family, check_listed
+from sharebags.checks import MOST_BEADS, check_bags, check_family, check_listed, check_number
 from sharebags.checks import is_ascending, is_between, is_integer, makes_family
-from sharebags.errors import BadNumber, BadPart, BadPour
+from sharebags.errors import BadPart, BadPour
 from sharebags.masks import mask_of
 from sharebags.pourings import bead_count, parted_at, poured_together, sharing_pairs
 
@@ -43,8 +43,7 @@ def sizes(family):
 
 def one_bag(size):
     """The family of one bag with so many beads."""
-    if not is_between(size, 2, MOST_BEADS):
-        raise BadNumber()
+    check_number(size, 2, MOST_BEADS)
     return (tuple(range(size)),)
 
 

@@ -1,8 +1,8 @@
 """Checks of the values that are passed to the functions of the package."""
 
 from sharebags.bars import first_bar
-from sharebags.errors import BadBags, BadFamily, OtherBeads, TooMany
-from sharebags.pourings import bead_count
+from sharebags.errors import BadBags, BadBead, BadBeads, BadFamily, BadNumber, NotCoarser, OtherBeads, TooMany
+from sharebags.pourings import bead_count, lies_below
 
 MOST_BEADS = 60
 MOST_LISTED = 500
@@ -66,6 +66,31 @@ def check_families(one, other):
     check_family(other)
     if bead_count(one) != bead_count(other):
         raise OtherBeads()
+
+
+def check_finer(coarse, fine):
+    """Raise the errors of two families, then NotCoarser if coarse is not coarser than fine."""
+    check_families(coarse, fine)
+    if not lies_below(fine, coarse):
+        raise NotCoarser()
+
+
+def check_number(value, least, most):
+    """Raise BadNumber for a value that is no integer from least to most."""
+    if not is_between(value, least, most):
+        raise BadNumber()
+
+
+def check_bead(family, value):
+    """Raise BadBead for a value that is no bead of a family."""
+    if not is_between(value, 0, bead_count(family) - 1):
+        raise BadBead()
+
+
+def check_beads(family, value, least):
+    """Raise BadBeads for a value that is no ascending tuple of so many beads of a family or more."""
+    if not is_bead_tuple(value) or len(value) < least or value[-1] >= bead_count(family):
+        raise BadBeads()
 
 
 def check_listed(many):

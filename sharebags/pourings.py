@@ -67,20 +67,20 @@ def finest_above(one, other):
     return grown
 
 
-def poured_once_below(family, coarse):
-    """A family that comes by one pouring from a family and is finer than coarse, itself if there is none."""
+def poured_below(family, coarse):
+    """The list of the families that come by one pouring and are finer than coarse."""
     masks = masks_of(family)
+    found = []
     for whole in masks_of(coarse):
         inside = [k for k in range(len(masks)) if lies_within(masks[k], [whole])]
-        for k in inside[1:]:
-            if masks[inside[0]] & masks[k]:
-                return poured_together(family, (inside[0], k))
-    return family
+        pairs = [(i, j) for i in inside for j in inside if i < j and masks[i] & masks[j]]
+        found.extend([poured_together(family, pair) for pair in pairs])
+    return found
 
 
 def climb(fine, coarse):
     """The list of the families on a way of pourings from fine to coarse, both included."""
     families = [fine]
     while len(families[-1]) > len(coarse):
-        families.append(poured_once_below(families[-1], coarse))
+        families.append(poured_below(families[-1], coarse)[0])
     return families

@@ -6,10 +6,8 @@ from itertools import combinations
 from sharebags.bags import bar, beads, is_family
 from sharebags.errors import BadBags, BadFamily
 from tests import naive
+from tests.samples import PATH, STAR
 from tests.wrong import FAMILIES, NO_BAGS, NO_FAMILIES
-
-PATH = tuple((k, k + 1) for k in range(59))
-STAR = tuple((0, k) for k in range(1, 60))
 
 
 class BarTest(unittest.TestCase):

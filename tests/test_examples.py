@@ -27,6 +27,47 @@ ORDERS = """
 raises OtherBeads()
 """
 
+COUNTS = """
+>>> from sharebags.counts import between, between_tally, coarser, coarser_tally
+>>> from sharebags.counts import count_between, count_coarser, count_finer, count_ways
+>>> from sharebags.counts import families, mobius, steps_up, tally, ways
+>>> family, top = ((0, 1, 2), (2, 3)), ((0, 1, 2, 3),)
+>>> [count_coarser(family), count_finer(family), coarser(family), coarser_tally(family), steps_up(((0, 1), (1, 2), (2, 3))), families(3), tally(4)]
+[2, 4, [((0, 1, 2), (2, 3)), ((0, 1, 2, 3),)], (1, 1), 2, 4, (1, 12, 16)]
+>>> [count_between(top, family), between(top, family), between_tally(top, family), count_ways(top, family), ways(top, family), mobius(top, family)]
+[2, [((0, 1, 2), (2, 3)), ((0, 1, 2, 3),)], ((1, 1), (2, 1)), 1, [(((0, 1, 2), (2, 3)), ((0, 1, 2, 3),))], -1]
+>>> count_ways(family, top)
+raises NotCoarser()
+"""
+
+CODES = """
+>>> from sharebags.codes import code, family_at, family_number, family_of, next_family
+>>> family = ((0, 1, 2), (2, 3))
+>>> [code(family), family_of((((1, 2), (3,)), (2,))), family_number(family), family_at(4, 2, 3), next_family(family)]
+[(((1, 2), (3,)), (2,)), ((0, 1, 2), (2, 3)), 2, ((0, 3), (1, 2, 3)), ((0, 3), (1, 2, 3))]
+>>> family_of((((1, 2), (3,)), ()))
+raises BadCode()
+"""
+
+WAYS = """
+>>> from sharebags.ways import bead_way, ends, far, far_from, far_tally, hubs, hull
+>>> from sharebags.ways import meeting, middles, nearest, sides, sum_far, sums_far, width
+>>> family = ((0, 1), (1, 2, 3), (3, 4))
+>>> [bead_way(family, 0, 4), far(family, 0, 4), far_from(family, 0), sides(family, 1), sum_far(family), sums_far(family), width(family), ends(family)]
+[(0, 0, 1, 1, 3, 2, 4), 3, (0, 1, 2, 2, 3), (2, 1, 2), 16, (8, 5, 6, 5, 8), 3, (0, 4)]
+>>> [middles(family), hubs(family), far_tally(family), meeting(family, 0, 2, 4), hull(family, (0, 2)), nearest(family, 0, (2, 3))]
+[(1, 2, 3), (1, 3), (5, 4, 1), ('bag', 1), ((0, 1, 2), (0, 1)), 2]
+"""
+
+OUTS = """
+>>> from sharebags.outs import hung_on, kept, mended, mending_number, put_into, strung, taken_out
+>>> family = ((0, 1, 2), (2, 3))
+>>> [taken_out(family, 2), kept(family, (0, 3)), put_into(family, 1), hung_on(family, 0), strung(((0, 1),), ((0, 1, 2),), 1, 0), mended(((0, 1), (0, 2), (1, 2))), mending_number(((0, 1), (0, 2), (1, 2)))]
+[((0, 1, 2),), ((0, 1),), ((0, 1, 2), (2, 3, 4)), ((0, 1, 2), (0, 4), (2, 3)), ((0, 1), (1, 2, 3)), ((0, 1, 2),), 2]
+>>> taken_out(((0, 1),), 0)
+raises BadBead()
+"""
+
 
 class ExamplesTest(unittest.TestCase):
     def test_bags(self):
@@ -34,6 +75,18 @@ class ExamplesTest(unittest.TestCase):
 
     def test_orders(self):
         check_examples(self, ORDERS)
+
+    def test_counts(self):
+        check_examples(self, COUNTS)
+
+    def test_codes(self):
+        check_examples(self, CODES)
+
+    def test_ways(self):
+        check_examples(self, WAYS)
+
+    def test_outs(self):
+        check_examples(self, OUTS)
 
     def test_readme(self):
         check_examples(self, (Path(__file__).parent.parent / "README.md").read_text(encoding="utf-8"))

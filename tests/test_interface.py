@@ -3,7 +3,7 @@
 import inspect
 import unittest
 
-from sharebags import bags, errors, orders
+from sharebags import bags, codes, counts, errors, orders, outs, ways
 
 LISTED = {
     bags: {
@@ -15,6 +15,28 @@ LISTED = {
         "is_coarser": ["one", "other"], "shows_way": ["one", "other", "value"], "least_coarser": ["one", "other"],
         "greatest_finer": ["one", "other"], "distance": ["one", "other"], "rank": ["family"],
         "way": ["one", "other"],
+    },
+    counts: {
+        "count_coarser": ["family"], "count_finer": ["family"], "count_between": ["coarse", "fine"],
+        "count_ways": ["coarse", "fine"], "mobius": ["coarse", "fine"], "steps_up": ["family"], "families": ["size"],
+        "coarser": ["family"], "between": ["coarse", "fine"], "ways": ["coarse", "fine"],
+        "coarser_tally": ["family"], "between_tally": ["coarse", "fine"], "tally": ["size"],
+    },
+    codes: {
+        "code": ["family"], "family_of": ["value"], "family_at": ["size", "bags", "index"],
+        "family_number": ["family"], "next_family": ["family"],
+    },
+    ways: {
+        "bead_way": ["family", "one", "other"], "far_from": ["family", "bead"], "sides": ["family", "index"],
+        "sums_far": ["family"], "ends": ["family"], "middles": ["family"], "hubs": ["family"],
+        "far_tally": ["family"], "meeting": ["family", "one", "other", "third"], "hull": ["family", "some"],
+        "far": ["family", "one", "other"], "sum_far": ["family"], "width": ["family"],
+        "nearest": ["family", "bead", "some"],
+    },
+    outs: {
+        "taken_out": ["family", "bead"], "kept": ["family", "some"], "put_into": ["family", "index"],
+        "hung_on": ["family", "bead"], "strung": ["one", "other", "first", "second"], "mended": ["bags"],
+        "mending_number": ["bags"],
     },
 }
 
@@ -32,6 +54,10 @@ class InterfaceTest(unittest.TestCase):
         self.assertEqual(bags.pour(family=family, one=0, other=1), ((0, 1, 2, 3),))
         self.assertEqual(bags.part(family=family, index=0, bead=2, side=(0,)), ((0, 2), (1, 2), (2, 3)))
         self.assertTrue(orders.shows_way(one=family, other=family, value=[family]))
+        self.assertEqual(counts.count_ways(coarse=((0, 1, 2, 3),), fine=family), 1)
+        self.assertEqual(codes.family_at(size=4, bags=2, index=2), family)
+        self.assertEqual(ways.meeting(family=family, one=0, other=1, third=3), ("bag", 0))
+        self.assertEqual(outs.strung(one=((0, 1),), other=((0, 1),), first=1, second=0), ((0, 1), (1, 2)))
 
     def test_nothing_else_is_public(self):
         for module, functions in LISTED.items():

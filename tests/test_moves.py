@@ -6,12 +6,10 @@ from itertools import combinations
 from sharebags.bags import beads, degrees, moves, one_bag, part, parted, pour, poured, pours, sizes
 from sharebags.errors import BadNumber, BadPart, BadPour, TooMany
 from tests import naive
+from tests.samples import PATH, STAR, WHOLE, size_of
 from tests.wrong import FAMILIES, GREAT, INTEGERS, OTHER_KINDS
 
 SMALL = [family for size in range(2, 6) for family in naive.families(size)]
-PATH = tuple((k, k + 1) for k in range(59))
-STAR = tuple((0, k) for k in range(1, 60))
-WHOLE = (tuple(range(60)),)
 
 
 def with_sizes(*numbers):
@@ -43,7 +41,7 @@ class NumbersTest(unittest.TestCase):
 
     def test_small_families(self):
         for family in SMALL:
-            size = max(map(max, family)) + 1
+            size = size_of(family)
             self.assertEqual(beads(family), size)
             expected = tuple(len([bag for bag in family if bead in bag]) for bead in range(size))
             self.assertEqual(degrees(family), expected)

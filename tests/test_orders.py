@@ -6,13 +6,9 @@ from itertools import product
 from sharebags.errors import OtherBeads
 from sharebags.orders import distance, greatest_finer, is_coarser, least_coarser, rank, shows_way, way
 from tests import naive
+from tests.samples import HALVES, LAST_STAR, PATH, STAR, WHOLE, size_of
 from tests.wrong import FAMILIES, INTEGERS, NO_BAGS, NO_FAMILIES, OTHER_KINDS
 
-PATH = tuple((k, k + 1) for k in range(59))
-STAR = tuple((0, k) for k in range(1, 60))
-LAST_STAR = tuple((k, 59) for k in range(59))
-WHOLE = (tuple(range(60)),)
-HALVES = (tuple(range(30)), tuple(range(29, 60)))
 ODD_AND_EVEN = ((0, *range(1, 60, 2)), tuple(range(0, 60, 2)))
 BIG = [PATH, STAR, LAST_STAR, WHOLE, HALVES, ODD_AND_EVEN]
 
@@ -37,7 +33,7 @@ class OrderTest(unittest.TestCase):
 
     def test_greatest_finer(self):
         for one, other in pairs_of_families(60):
-            size = max(map(max, one)) + 1
+            size = size_of(one)
             self.assertEqual(greatest_finer(one, other), naive.greatest_finer(one, other, size), (one, other))
 
     def test_none_is_finer_than_both(self):

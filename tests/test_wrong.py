@@ -6,6 +6,7 @@ from itertools import product
 
 from sharebags import bags, orders
 from sharebags.errors import BadBags, BadFamily, BadNumber, BadPart, BadPour, OtherBeads, TooMany
+from tests.calls import check_error, check_lists_are_new
 from tests.wrong import FAMILIES, GREAT, NO_BAGS, NO_FAMILIES, OTHER_KINDS
 
 ONE_FAMILY = [
@@ -34,11 +35,7 @@ def shows_nothing(one, other):
 class WrongTest(unittest.TestCase):
     def check(self, error, function, *arguments):
         """Check that a call raises just this error and leaves its arguments as they are."""
-        before = deepcopy(arguments)
-        with self.assertRaises(error, msg=(function.__name__, arguments)) as caught:
-            function(*arguments)
-        self.assertIs(type(caught.exception), error)
-        self.assertEqual(repr(arguments), repr(before))
+        check_error(self, error, function, *arguments)
 
     def test_one_family(self):
         for function in ONE_FAMILY:
@@ -139,14 +136,7 @@ class NothingChangesTest(unittest.TestCase):
             lambda: bags.poured(family), lambda: bags.parted(family),
             lambda: orders.way(family, other), lambda: orders.way(family, family),
         ]
-        for call in calls:
-            first = call()
-            expected = list(first)
-            first.append(None)
-            first[0] = None
-            again = call()
-            self.assertIsNot(again, first)
-            self.assertEqual(again, expected)
+        check_lists_are_new(self, calls)
 
     def test_equal_arguments_have_equal_answers(self):
         for family in FAMILIES:

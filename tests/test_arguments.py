@@ -1,0 +1,141 @@
+"""Point 1: each function by the kinds of its arguments, with wrong values alone and several at once."""
+
+import unittest
+from copy import deepcopy
+from itertools import product
+
+from sharebags import codes, counts, outs, ways
+from sharebags.bags import is_family
+from sharebags.errors import BadBags, BadBead, BadBeads, BadCode, BadFamily, BadNumber
+from tests.calls import check_error, check_lists_are_new
+from tests.wrong import FAMILIES, GREAT, INTEGERS, NO_BAGS, NO_FAMILIES, OTHER_KINDS
+
+FAMILY = ((0, 1), (1, 2, 3), (3, 4))
+WHOLE = ((0, 1, 2, 3, 4),)
+TUPLES = [(), (0,), (1,), (0, 1), ((0,),), ((0, 1),), (None,), (True,), "01"]
+NO_BEADS = OTHER_KINDS + TUPLES + [-GREAT, -60, -5, -2, -1, 5, 6, 59, 60, GREAT, FAMILY]
+NO_INDEXES = OTHER_KINDS + TUPLES + [-GREAT, -60, -3, -2, -1, 3, 4, 60, GREAT, FAMILY]
+NO_TUPLES_OF_BEADS = OTHER_KINDS + INTEGERS + [
+    (), (0, 0), (1, 0), (0, 2, 1), (5,), (0, 5), (0, 59), (0, 60), (0, GREAT), (-1,), (-1, 0), (-GREAT, 1), (True,),
+    (False,), (False, 1), (0, True), (0, None), (None,), ("0",), (0, "1"), ((0, 1),), ((0,), (1,)), (0, (1,)), ([0, 1],),
+    (0, [1]), (0, {}), (0, 1, 2, 3, 4, 5), (4, 3, 2, 1, 0), FAMILY,
+]
+NO_SIZES = OTHER_KINDS + TUPLES + [-GREAT, -2, -1, 0, 1, 201, 202, 1000, GREAT]
+
+# For each kind of argument a good value, and the wrong ones with their errors, in the order in which they are named.
+KINDS = {
+    "family": (FAMILY, [(BadBags, NO_BAGS), (BadFamily, NO_FAMILIES)]),
+    "whole": (WHOLE, [(BadBags, NO_BAGS), (BadFamily, NO_FAMILIES)]),
+    "bags": (FAMILY, [(BadBags, NO_BAGS), (BadFamily, [((1, 2),), ((0, 1), (2, 3)), ((0, 1), (1, 3)), ((0, 59),)])]),
+    "bead": (4, [(BadBead, NO_BEADS)]),
+    "index": (1, [(BadNumber, NO_INDEXES)]),
+    "some": ((0, 3), [(BadBeads, NO_TUPLES_OF_BEADS)]),
+    "some, two at least": ((0, 3), [(BadBeads, NO_TUPLES_OF_BEADS + [(0,), (4,)])]),
+    "size": (4, [(BadNumber, NO_SIZES)]),
+    "size of a family": (4, [(BadNumber, NO_SIZES + [61, 62, 200])]),
+    "number of bags": (2, [(BadNumber, OTHER_KINDS + TUPLES + [-1, 0, 4, 5, 60, GREAT])]),
+    "number": (11, [(BadNumber, OTHER_KINDS + TUPLES + [-1, -12, 12, 13, GREAT])]),
+    "code": ((((1, 2), (3,)), (2,)), [(BadCode, NO_BAGS + NO_FAMILIES)]),
+}
+
+TABLE = [
+    (counts.count_coarser, ["family"]), (counts.count_finer, ["family"]), (counts.steps_up, ["family"]),
+    (counts.coarser, ["family"]), (counts.coarser_tally, ["family"]), (counts.families, ["size"]),
+    (counts.tally, ["size"]), (counts.count_between, ["whole", "family"]), (counts.count_ways, ["whole", "family"]),
+    (counts.mobius, ["whole", "family"]), (counts.between, ["whole", "family"]), (counts.ways, ["whole", "family"]),
+    (counts.between_tally, ["whole", "family"]),
+    (codes.code, ["family"]), (codes.family_of, ["code"]), (codes.family_number, ["family"]),
+    (codes.next_family, ["family"]), (codes.family_at, ["size of a family", "number of bags", "number"]),
+    (ways.bead_way, ["family", "bead", "bead"]), (ways.far_from, ["family", "bead"]), (ways.sides, ["family", "index"]),
+    (ways.sums_far, ["family"]), (ways.ends, ["family"]), (ways.middles, ["family"]), (ways.hubs, ["family"]),
+    (ways.far_tally, ["family"]), (ways.meeting, ["family", "bead", "bead", "bead"]), (ways.hull, ["family", "some"]),
+    (ways.far, ["family", "bead", "bead"]), (ways.sum_far, ["family"]), (ways.width, ["family"]),
+    (ways.nearest, ["family", "bead", "some"]),
+    (outs.taken_out, ["family", "bead"]), (outs.kept, ["family", "some, two at least"]),
+    (outs.put_into, ["family", "index"]), (outs.hung_on, ["family", "bead"]),
+    (outs.strung, ["family", "whole", "bead", "bead"]), (outs.mended, ["bags"]), (outs.mending_number, ["bags"]),
+]
+
+
+def good_values(kinds):
+    return [KINDS[kind][0] for kind in kinds]
+
+
+def few_values(kind):
+    """Pairs of a value and its error, None for the good one: a few of each error."""
+    good, wrong = KINDS[kind]
+    found = [(good, None)]
+    for error, values in wrong:
+        found += [(value, error) for value in values[:: len(values) // 3 + 1]]
+    return found
+
+
+class ArgumentsTest(unittest.TestCase):
+    def test_one_wrong_value(self):
+        for function, kinds in TABLE:
+            for place, kind in enumerate(kinds):
+                for error, values in KINDS[kind][1]:
+                    for value in values:
+                        told = good_values(kinds)
+                        told[place] = value
+                        check_error(self, error, function, *told)
+
+    def test_the_leftmost_of_several_wrong_values(self):
+        for function, kinds in TABLE:
+            for told in product(*[few_values(kind) for kind in kinds]):
+                errors = [error for _, error in told if error is not None]
+                if errors:
+                    check_error(self, errors[0], function, *[value for value, _ in told])
+
+    def test_good_values_are_left_as_they_are(self):
+        for function, kinds in TABLE:
+            values = good_values(kinds)
+            before = repr(values)
+            self.assertEqual(function(*values), function(*deepcopy(values)))
+            self.assertEqual(repr(values), before)
+
+
+class AnswersTest(unittest.TestCase):
+    def test_lists_are_new(self):
+        calls = [
+            lambda: counts.coarser(FAMILY), lambda: counts.coarser(WHOLE), lambda: counts.between(WHOLE, FAMILY),
+            lambda: counts.ways(WHOLE, FAMILY), lambda: counts.between(FAMILY, FAMILY), lambda: counts.ways(WHOLE, WHOLE),
+        ]
+        check_lists_are_new(self, calls)
+
+    def test_kinds_of_answers(self):
+        expected = {
+            int: [
+                counts.count_coarser, counts.count_finer, counts.steps_up, counts.families, counts.count_between,
+                counts.count_ways, counts.mobius, codes.family_number, ways.far, ways.sum_far, ways.width,
+                ways.nearest, outs.mending_number,
+            ],
+            list: [counts.coarser, counts.between, counts.ways],
+        }
+        for function, kinds in TABLE:
+            wanted = [kind for kind in expected if function in expected[kind]] or [tuple]
+            self.assertIs(type(function(*good_values(kinds))), wanted[0], function.__name__)
+
+    def test_nothing_within_is_a_list_or_a_boolean(self):
+        def check_within(value):
+            self.assertIn(type(value), (int, str, tuple))
+            if type(value) is tuple:
+                for part in value:
+                    check_within(part)
+
+        for function, kinds in TABLE:
+            answer = function(*good_values(kinds))
+            for part in answer if type(answer) is list else [answer]:
+                check_within(part)
+
+    def test_families_are_families(self):
+        for family in FAMILIES:
+            found = [outs.mended(family), codes.family_of(codes.code(family))]
+            found += [codes.next_family(family)] if codes.next_family(family) else []
+            if counts.count_coarser(family) <= 500:
+                found += counts.coarser(family)
+            self.assertTrue(all(is_family(other) for other in found))
+
+
+if __name__ == "__main__":
+    unittest.main()
