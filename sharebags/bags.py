@@ -5,7 +5,7 @@ from sharebags.checks import MOST_BEADS, check_bags, check_family, check_listed,
 from sharebags.checks import is_ascending, is_between, is_integer, makes_family
 from sharebags.errors import BadPart, BadPour
 from sharebags.masks import mask_of
-from sharebags.pourings import bead_count, parted_at, poured_together, sharing_pairs
+from sharebags.pourings import bead_count, degrees_of, parted_at, poured_together, sharing_pairs
 
 
 def is_family(value):
@@ -28,11 +28,7 @@ def beads(family):
 def degrees(family):
     """The tuple of the numbers of bags that hold each bead."""
     check_family(family)
-    counts = [0] * bead_count(family)
-    for bag in family:
-        for bead in bag:
-            counts[bead] += 1
-    return tuple(counts)
+    return tuple(degrees_of(family))
 
 
 def sizes(family):

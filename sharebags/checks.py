@@ -1,7 +1,8 @@
 """Checks of the values that are passed to the functions of the package."""
 
 from sharebags.bars import first_bar
-from sharebags.errors import BadBags, BadBead, BadBeads, BadFamily, BadNumber, NotCoarser, OtherBeads, TooMany
+from sharebags.errors import BadBags, BadBead, BadBeads, BadFamily, BadNumber
+from sharebags.errors import NotCoarser, OtherBeads, TooGreat, TooMany
 from sharebags.pourings import bead_count, lies_below
 
 MOST_BEADS = 60
@@ -23,11 +24,14 @@ def is_ascending(items):
     return all(items[k] < items[k + 1] for k in range(len(items) - 1))
 
 
+def are_integers(value, least, most):
+    """Whether a value is a tuple of integers from least to most, or the empty one."""
+    return isinstance(value, tuple) and all(is_between(number, least, most) for number in value)
+
+
 def is_bead_tuple(value):
     """Whether a value is an ascending tuple of beads, or the empty one."""
-    if not isinstance(value, tuple):
-        return False
-    return all(is_between(bead, 0, MOST_BEADS - 1) for bead in value) and is_ascending(value)
+    return are_integers(value, 0, MOST_BEADS - 1) and is_ascending(value)
 
 
 def is_bag(value):
@@ -60,6 +64,13 @@ def check_family(value):
         raise BadFamily()
 
 
+def check_few_bags(value, most):
+    """Raise the errors of a family, then TooGreat for one with more bags than so many."""
+    check_family(value)
+    if len(value) > most:
+        raise TooGreat(most)
+
+
 def check_families(one, other):
     """Raise the errors of two families, then OtherBeads if they have different numbers of beads."""
     check_family(one)
@@ -71,6 +82,13 @@ def check_families(one, other):
 def check_finer(coarse, fine):
     """Raise the errors of two families, then NotCoarser if coarse is not coarser than fine."""
     check_families(coarse, fine)
+    if not lies_below(fine, coarse):
+        raise NotCoarser()
+
+
+def check_coarser(fine, coarse):
+    """Raise the errors of two families, then NotCoarser if coarse is not coarser than fine."""
+    check_families(fine, coarse)
     if not lies_below(fine, coarse):
         raise NotCoarser()
 

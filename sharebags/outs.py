@@ -4,7 +4,7 @@ from sharebags.bars import hanging_with_first, missing_bead
 from sharebags.checks import MOST_BEADS, check_bags, check_bead, check_beads, check_family, check_number
 from sharebags.errors import BadBead, BadFamily, TooGreat
 from sharebags.masks import masks_of
-from sharebags.pourings import bead_count, finest_above, poured_together
+from sharebags.pourings import bead_count, finest_above, poured_together, with_names
 
 
 def taken_out(family, bead):
@@ -57,7 +57,7 @@ def strung(one, other, first, second):
     _check_size(size + more - 1)
     fresh = list(range(size, size + more - 1))
     names = [*fresh[:second], first, *fresh[second:]]
-    return tuple(sorted([*one, *[tuple(sorted([names[bead] for bead in bag])) for bag in other]]))
+    return tuple(sorted([*one, *with_names(other, names)]))
 
 
 def mended(bags):

@@ -1,7 +1,7 @@
-"""Partitions of things into parts: how many there are, and their numbers among those with as many parts.
+"""Partitions of things into parts: how many there are, and their numbers among those with as many things.
 
 A partition is told by its word: the list of the part of each thing, the parts being named 0, 1, .. in the order in
-which they are begun.
+which they are begun. Words are compared as lists.
 """
 
 
@@ -21,8 +21,27 @@ def all_partitions(things):
 
 
 def word_number(word):
-    """The number of a word among those with as many things and parts, compared as lists."""
-    rows = _endings(len(word), max(word) + 1)
+    """The number of a word among those with as many things and parts."""
+    return _place_of(word, _endings(len(word), _ending_with(max(word) + 1)))
+
+
+def word_at(things, parts, number):
+    """The word with a number among those with so many things and parts."""
+    return _word_placed(things, _endings(things, _ending_with(parts)), number)
+
+
+def free_word_number(word):
+    """The number of a word among those with as many things, in however many parts."""
+    return _place_of(word, _endings(len(word), _ending_anyhow(len(word))))
+
+
+def free_word_at(things, number):
+    """The word with a number among those with so many things, in however many parts."""
+    return _word_placed(things, _endings(things, _ending_anyhow(things)), number)
+
+
+def _place_of(word, rows):
+    """The number of a word among those that end as the rows tell."""
     number = 0
     begun = 0
     for place, part in enumerate(word):
@@ -32,27 +51,41 @@ def word_number(word):
     return number
 
 
-def word_at(things, parts, number):
-    """The word with a number among those with so many things and parts."""
-    rows = _endings(things, parts)
+def _word_placed(things, rows, number):
+    """The word with a number among those that end as the rows tell."""
+    left = number
     word = []
     begun = 0
     for place in range(things):
         each = rows[things - place - 1][begun]
-        if number < begun * each:
-            word.append(number // each)
-            number = number % each
+        if left < begun * each:
+            part, left = divmod(left, each)
+            word.append(part)
         else:
             word.append(begun)
-            number = number - begun * each
+            left = left - begun * each
             begun += 1
     return word
 
 
-def _endings(things, parts):
-    """For 0, 1, .., things left, the list of the numbers of ways to go on with 0, 1, .., parts begun."""
-    rows = [[0] * parts + [1]]
+def _ending_with(parts):
+    """For 0, 1, .., parts begun at the end of a word 1 if it may end so, else 0: with all parts alone."""
+    return [0] * parts + [1]
+
+
+def _ending_anyhow(things):
+    """The same for words of so many things that may end with any number of parts."""
+    return [1] * (things + 1)
+
+
+def _endings(things, last):
+    """For 0, 1, .., things left, the list of the numbers of ways to go on with 0, 1, .. parts begun.
+
+    They hold as far as the parts that are begun and those that the things left may begin are told by the last row: no
+    word of these things has more.
+    """
+    rows = [last]
     for _ in range(things):
-        last = [*rows[-1], 0]
-        rows.append([begun * last[begun] + last[begun + 1] for begun in range(parts + 1)])
+        padded = [*rows[-1], 0]
+        rows.append([begun * padded[begun] + padded[begun + 1] for begun in range(len(last))])
     return rows

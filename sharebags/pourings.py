@@ -8,6 +8,20 @@ def bead_count(family):
     return max(bag[-1] for bag in family) + 1
 
 
+def degrees_of(family):
+    """The list of the numbers of bags that hold each bead."""
+    counts = [0] * bead_count(family)
+    for bag in family:
+        for bead in bag:
+            counts[bead] += 1
+    return counts
+
+
+def with_names(bags, names):
+    """The ascending tuple of bags whose beads 0, 1, .. are replaced by names."""
+    return tuple(sorted([tuple(sorted([names[bead] for bead in bag])) for bag in bags]))
+
+
 def sharing_pairs(family):
     """The ascending tuple of the ascending pairs of indexes of bags that share a bead."""
     masks = masks_of(family)

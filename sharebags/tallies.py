@@ -1,5 +1,6 @@
 """Products, powers and tallies of families, for arguments that are known to be good."""
 
+from sharebags.arrangements import count_arrangements
 from sharebags.partitions import partitions_by_parts
 
 
@@ -35,3 +36,12 @@ def families_by_bags(size):
         found.append(row[bags] * stems)
         stems = stems * size
     return found
+
+
+def families_by_degrees(degrees):
+    """The number of families whose beads 0, 1, .. lie in so many bags, 0 if there is none."""
+    bags = sum(degrees) - len(degrees) + 1
+    if bags >= len(degrees):
+        return 0
+    # In the code of a family a bead is a stem once less than it has bags.
+    return partitions_by_parts(len(degrees) - 1)[bags] * count_arrangements([degree - 1 for degree in degrees])

@@ -2,6 +2,7 @@
 
 from functools import lru_cache
 from itertools import combinations
+from math import comb, factorial
 
 
 def all_bags(size):
@@ -135,3 +136,86 @@ def is_shortest_way(one, other, steps):
     if len(steps) != distances(one)[other] + 1:
         return False
     return all(steps[k + 1] in poured(steps[k]) + parted(steps[k]) for k in range(len(steps) - 1))
+
+
+def bead_distances(family, start):
+    """For each bead the number of bags on the way from one."""
+    found = {start: 0}
+    fresh = [start]
+    for bead in fresh:
+        for bag in family:
+            if bead in bag:
+                for other in bag:
+                    if other not in found:
+                        found[other] = found[bead] + 1
+                        fresh.append(other)
+    return found
+
+
+def stems(family):
+    """For each bag its bead nearest to bead 0."""
+    far = bead_distances(family, 0)
+    return {bag: min(bag, key=far.get) for bag in family}
+
+
+def code(family):
+    """The code by the words of the document."""
+    stem = stems(family)
+    own = {bag: tuple(bead for bead in bag if bead != stem[bag]) for bag in family}
+    left, written = list(family), []
+    while len(left) > 1:
+        free = [bag for bag in left if not any(stem[other] in own[bag] for other in left)]
+        taken = min(free, key=lambda bag: min(own[bag]))
+        left.remove(taken)
+        written.append(stem[taken])
+    return (tuple(sorted(own.values())), tuple(written))
+
+
+def code_place(family):
+    """What the families with as many beads and bags are ordered by."""
+    parts, written = code(family)
+    ordered = sorted(parts, key=min)
+    word = [k for bead in range(1, max(map(max, family)) + 1) for k in range(len(ordered)) if bead in ordered[k]]
+    return (tuple(word), written)
+
+
+def finer(family):
+    """The ascending list of the families from which a family comes by any pourings."""
+    return [fine for fine in families(max(map(max, family)) + 1) if family in coarser(fine)]
+
+
+def all_ways(family, one, other):
+    """All ways between two beads, by the words of the document."""
+    found, open_ways = [], [(one,)]
+    for steps in open_ways:
+        if steps[-1] == other:
+            found.append(steps)
+        for index, bag in enumerate(family):
+            if steps[-1] in bag and index not in steps[1::2]:
+                open_ways += [steps + (index, bead) for bead in bag if bead not in steps[::2]]
+    return found
+
+
+def groups(bags, beads):
+    """The ascending list of the ascending tuples of beads that hang together by bags."""
+    found = []
+    for bead in beads:
+        group = {bead}
+        for _ in bags:
+            group |= {other for bag in bags if group & set(bag) for other in bag}
+        found.append(tuple(sorted(group)))
+    return sorted(set(found))
+
+
+@lru_cache(maxsize=None)
+def bell(things):
+    """The number of partitions, by the part of the last thing."""
+    if things == 0:
+        return 1
+    return sum(comb(things - 1, k) * bell(k) for k in range(things))
+
+
+def parted_in(things, parts):
+    """The number of partitions into so many parts, by the mappings onto them."""
+    onto = sum((-1) ** k * comb(parts, k) * (parts - k) ** things for k in range(parts + 1))
+    return onto // factorial(parts)

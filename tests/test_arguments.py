@@ -4,9 +4,9 @@ import unittest
 from copy import deepcopy
 from itertools import product
 
-from sharebags import codes, counts, outs, ways
-from sharebags.bags import is_family
-from sharebags.errors import BadBags, BadBead, BadBeads, BadCode, BadFamily, BadNumber
+from sharebags import bagways, codes, counts, cuts, numbers, outs, places, ways
+from sharebags.bags import degrees, is_family
+from sharebags.errors import BadBags, BadBead, BadBeads, BadCode, BadFamily, BadNumber, BadSizes
 from tests.calls import check_error, check_lists_are_new
 from tests.wrong import FAMILIES, GREAT, INTEGERS, NO_BAGS, NO_FAMILIES, OTHER_KINDS
 
@@ -19,6 +19,10 @@ NO_TUPLES_OF_BEADS = OTHER_KINDS + INTEGERS + [
     (), (0, 0), (1, 0), (0, 2, 1), (5,), (0, 5), (0, 59), (0, 60), (0, GREAT), (-1,), (-1, 0), (-GREAT, 1), (True,),
     (False,), (False, 1), (0, True), (0, None), (None,), ("0",), (0, "1"), ((0, 1),), ((0,), (1,)), (0, (1,)), ([0, 1],),
     (0, [1]), (0, {}), (0, 1, 2, 3, 4, 5), (4, 3, 2, 1, 0), FAMILY,
+]
+NO_NUMBERS = OTHER_KINDS + INTEGERS + [
+    (), (-1, 2), (-GREAT, 2), (True, 2), (2, True), (2, False), (2, None), (None, 2), ("2", 2), (2, "2"), "22", [2, 2],
+    ([2, 2],), ((2, 2),), ((2,), (2,)), (2, (2,)), (2, [2]), (2, {}), {2: 2}, FAMILY,
 ]
 NO_SIZES = OTHER_KINDS + TUPLES + [-GREAT, -2, -1, 0, 1, 201, 202, 1000, GREAT]
 
@@ -35,6 +39,12 @@ KINDS = {
     "size of a family": (4, [(BadNumber, NO_SIZES + [61, 62, 200])]),
     "number of bags": (2, [(BadNumber, OTHER_KINDS + TUPLES + [-1, 0, 4, 5, 60, GREAT])]),
     "number": (11, [(BadNumber, OTHER_KINDS + TUPLES + [-1, -12, 12, 13, GREAT])]),
+    "number of coarser ones": (3, [(BadNumber, OTHER_KINDS + TUPLES + [-1, -4, 4, 5, GREAT])]),
+    "degree": (2, [(BadNumber, OTHER_KINDS + TUPLES + [-1, 0, 201, 202, GREAT])]),
+    "numbers of beads": ((2, 4), [(BadSizes, NO_NUMBERS + [(1, 2), (2, 200), (2,) * 200, (201,), (GREAT,)])]),
+    "numbers of bags": ((1, 1, 2, 1), [(BadSizes, NO_NUMBERS + [(0, 1), (1, 201), (1,) * 201, (1, GREAT)])]),
+    "degrees": ((1, 1, 2, 1), [(BadSizes, NO_NUMBERS + [(0, 1), (1, 2), (60, 1), (1,) * 61, (1, GREAT), (2,) * 60])]),
+    "number of degrees": (2, [(BadNumber, OTHER_KINDS + TUPLES + [-1, -3, 3, 4, GREAT])]),
     "code": ((((1, 2), (3,)), (2,)), [(BadCode, NO_BAGS + NO_FAMILIES)]),
 }
 
@@ -54,6 +64,20 @@ TABLE = [
     (outs.taken_out, ["family", "bead"]), (outs.kept, ["family", "some, two at least"]),
     (outs.put_into, ["family", "index"]), (outs.hung_on, ["family", "bead"]),
     (outs.strung, ["family", "whole", "bead", "bead"]), (outs.mended, ["bags"]), (outs.mending_number, ["bags"]),
+    (places.one_place, ["family"]), (places.coarser_at, ["family", "number of coarser ones"]),
+    (places.coarser_number, ["family", "whole"]), (places.finer_at, ["family", "number of coarser ones"]),
+    (places.finer_number, ["whole", "family"]),
+    (numbers.count_with_bags, ["size", "number of bags"]), (numbers.mean_bags, ["size"]),
+    (numbers.mean_degree, ["size", "number of bags"]), (numbers.outer_mean, ["size", "number of bags"]),
+    (numbers.degree_share, ["size", "number of bags", "degree"]), (numbers.together_share, ["size"]),
+    (numbers.count_with_sizes, ["numbers of beads"]), (numbers.count_with_degrees, ["numbers of bags"]),
+    (bagways.bag_way, ["family", "index", "index"]), (bagways.bag_far, ["family", "index", "index"]),
+    (bagways.gate, ["family", "index", "bead"]), (bagways.degree_number, ["family"]),
+    (bagways.degree_family, ["degrees", "number of degrees"]),
+    (cuts.without_bead, ["family", "bead"]), (cuts.without_beads, ["family", "some"]),
+    (cuts.without_bag, ["family", "index"]), (cuts.cut_beads, ["family"]), (cuts.outer_bags, ["family"]),
+    (cuts.hang_together, ["family", "some"]), (cuts.connected_sets, ["family"]), (cuts.most_even, ["family"]),
+    (cuts.fewest_cuts, ["family", "bead", "bead"]),
 ]
 
 
@@ -100,6 +124,8 @@ class AnswersTest(unittest.TestCase):
         calls = [
             lambda: counts.coarser(FAMILY), lambda: counts.coarser(WHOLE), lambda: counts.between(WHOLE, FAMILY),
             lambda: counts.ways(WHOLE, FAMILY), lambda: counts.between(FAMILY, FAMILY), lambda: counts.ways(WHOLE, WHOLE),
+            lambda: cuts.without_bead(FAMILY, 1), lambda: cuts.without_beads(FAMILY, (1, 3)),
+            lambda: cuts.without_bag(FAMILY, 1), lambda: cuts.without_bag(WHOLE, 0),
         ]
         check_lists_are_new(self, calls)
 
@@ -108,9 +134,14 @@ class AnswersTest(unittest.TestCase):
             int: [
                 counts.count_coarser, counts.count_finer, counts.steps_up, counts.families, counts.count_between,
                 counts.count_ways, counts.mobius, codes.family_number, ways.far, ways.sum_far, ways.width,
-                ways.nearest, outs.mending_number,
+                ways.nearest, outs.mending_number, places.coarser_number, places.finer_number, numbers.count_with_bags,
+                numbers.count_with_sizes, numbers.count_with_degrees, bagways.bag_far, bagways.gate,
+                bagways.degree_number, cuts.connected_sets,
             ],
-            list: [counts.coarser, counts.between, counts.ways],
+            list: [
+                counts.coarser, counts.between, counts.ways, cuts.without_bead, cuts.without_beads, cuts.without_bag,
+            ],
+            bool: [cuts.hang_together],
         }
         for function, kinds in TABLE:
             wanted = [kind for kind in expected if function in expected[kind]] or [tuple]
@@ -125,12 +156,15 @@ class AnswersTest(unittest.TestCase):
 
         for function, kinds in TABLE:
             answer = function(*good_values(kinds))
-            for part in answer if type(answer) is list else [answer]:
-                check_within(part)
+            if type(answer) is not bool:
+                for part in answer if type(answer) is list else [answer]:
+                    check_within(part)
 
     def test_families_are_families(self):
         for family in FAMILIES:
             found = [outs.mended(family), codes.family_of(codes.code(family))]
+            found += [places.coarser_at(family, 0), places.finer_at(family, places.one_place(family)[1] // 2)]
+            found += [bagways.degree_family(degrees(family), 0)]
             found += [codes.next_family(family)] if codes.next_family(family) else []
             if counts.count_coarser(family) <= 500:
                 found += counts.coarser(family)

@@ -13,42 +13,6 @@ from tests.wrong import FAMILIES, GREAT, INTEGERS, NO_BAGS, NO_FAMILIES, OTHER_K
 BIG = [PATH, STAR, LAST_STAR, WHOLE, HALVES]
 
 
-def distances(family, start):
-    """For each bead the number of bags on the way from one."""
-    found = {start: 0}
-    fresh = [start]
-    for bead in fresh:
-        for bag in family:
-            if bead in bag:
-                for other in bag:
-                    if other not in found:
-                        found[other] = found[bead] + 1
-                        fresh.append(other)
-    return found
-
-
-def naive_code(family):
-    """The code by the words of the document."""
-    far = distances(family, 0)
-    stem = {bag: min(bag, key=far.get) for bag in family}
-    own = {bag: tuple(bead for bead in bag if bead != stem[bag]) for bag in family}
-    left, written = list(family), []
-    while len(left) > 1:
-        free = [bag for bag in left if not any(stem[other] in own[bag] for other in left)]
-        taken = min(free, key=lambda bag: min(own[bag]))
-        left.remove(taken)
-        written.append(stem[taken])
-    return (tuple(sorted(own.values())), tuple(written))
-
-
-def place(family):
-    """What the families with as many beads and bags are ordered by."""
-    parts, stems = naive_code(family)
-    ordered = sorted(parts, key=min)
-    word = [k for bead in range(1, size_of(family)) for k in range(len(ordered)) if bead in ordered[k]]
-    return (tuple(word), stems)
-
-
 def partitions(things):
     """All partitions of things, ascending tuples of ascending tuples."""
     if not things:
@@ -68,7 +32,7 @@ class CodeTest(unittest.TestCase):
     def test_small_families(self):
         for size in range(2, 6):
             for family in naive.families(size):
-                self.assertEqual(code(family), naive_code(family))
+                self.assertEqual(code(family), naive.code(family))
                 self.assertEqual(family_of(code(family)), family)
 
     def test_each_partition_with_stems_is_the_code_of_one_family(self):
@@ -77,7 +41,7 @@ class CodeTest(unittest.TestCase):
             for parts in partitions(tuple(range(1, size))):
                 for stems in product(range(size), repeat=len(parts) - 1):
                     family = family_of((parts, stems))
-                    self.assertEqual(naive_code(family), (parts, stems))
+                    self.assertEqual(naive.code(family), (parts, stems))
                     met.add(family)
             self.assertEqual(met, set(naive.families(size)))
 
@@ -90,7 +54,7 @@ class CodeTest(unittest.TestCase):
         family = ((0, 1), (1, 2), (1, 6, 7), (2, 4), (3, 7), (4, 5))
         self.assertEqual(code(family), (((1,), (2,), (3,), (4,), (5,), (6, 7)), (7, 4, 2, 1, 1)))
         for family in RANDOM + BIG:
-            self.assertEqual(code(family), naive_code(family))
+            self.assertEqual(code(family), naive.code(family))
             self.assertEqual(family_of(code(family)), family)
 
     def test_sixty_beads(self):
@@ -138,7 +102,7 @@ class NumberTest(unittest.TestCase):
     def test_small_families(self):
         for size in range(2, 6):
             for bags in range(1, size):
-                ordered = sorted([f for f in naive.families(size) if len(f) == bags], key=place)
+                ordered = sorted([f for f in naive.families(size) if len(f) == bags], key=naive.code_place)
                 for index, family in enumerate(ordered):
                     self.assertEqual(family_number(family), index)
                     self.assertEqual(family_at(size, bags, index), family)
@@ -191,7 +155,7 @@ class NumberTest(unittest.TestCase):
             behind = next_family(family)
             self.assertEqual(family_number(behind), number + 1)
             self.assertEqual((size_of(behind), len(behind)), (size, len(family)))
-            self.assertLess(place(family), place(behind))
+            self.assertLess(naive.code_place(family), naive.code_place(behind))
         source = random.Random(5)
         for _ in range(30):
             index = source.randrange(29 * 60 ** 20)

@@ -10,6 +10,7 @@ from sharebags.counts import count_between, count_coarser, count_finer, count_wa
 from sharebags.counts import families, mobius, steps_up, tally, ways
 from sharebags.errors import BadNumber, NotCoarser, OtherBeads, TooMany
 from tests import naive
+from tests.naive import bell, parted_in
 from tests.samples import HALVES, PATH, STAR, WHOLE, size_of
 from tests.wrong import FAMILIES, GREAT, OTHER_KINDS
 
@@ -30,20 +31,6 @@ def with_centers(*degrees):
         pairs += star(bead, bead + more)
         bead += more
     return tuple(sorted(pairs))
-
-
-@lru_cache(maxsize=None)
-def bell(things):
-    """The number of partitions, by the part of the last thing."""
-    if things == 0:
-        return 1
-    return sum(comb(things - 1, k) * bell(k) for k in range(things))
-
-
-def parted_in(things, parts):
-    """The number of partitions into so many parts, by the mappings onto them."""
-    onto = sum((-1) ** k * comb(parts, k) * (parts - k) ** things for k in range(parts + 1))
-    return onto // factorial(parts)
 
 
 def finer_pairs(step):

@@ -68,6 +68,37 @@ OUTS = """
 raises BadBead()
 """
 
+PLACES = """
+>>> from sharebags.places import coarser_at, coarser_number, finer_at, finer_number, one_place
+>>> family = ((0, 1, 2), (2, 3))
+>>> [coarser_at(family, 0), coarser_number(family, family), finer_at(family, 0), finer_number(family, ((0, 1), (0, 2), (2, 3))), one_place(family)]
+[((0, 1, 2, 3),), 1, ((0, 1, 2), (2, 3)), 1, (2, 4)]
+"""
+
+NUMBERS = """
+>>> from sharebags.numbers import count_with_bags, count_with_degrees, count_with_sizes, degree_share
+>>> from sharebags.numbers import mean_bags, mean_degree, outer_mean, together_share
+>>> [count_with_bags(4, 2), count_with_sizes((2, 3)), count_with_degrees((1, 1, 2, 1)), mean_bags(3), mean_degree(4, 2), degree_share(4, 2, 2), outer_mean(4, 2), together_share(3)]
+[12, 12, 3, (7, 4), (5, 4), (1, 4), (3, 1), (3, 4)]
+>>> count_with_sizes((1, 3))
+raises BadSizes()
+"""
+
+BAGWAYS = """
+>>> from sharebags.bagways import bag_far, bag_way, degree_family, degree_number, gate
+>>> family = ((0, 1), (1, 2, 3), (3, 4))
+>>> [bag_way(family, 0, 2), bag_far(family, 0, 2), gate(family, 0, 4), degree_family((1, 1, 2, 1), 0), degree_number(((0, 1, 2), (2, 3)))]
+[(0, 1, 1, 3, 2), 2, 1, ((0, 1, 2), (2, 3)), 0]
+"""
+
+CUTS = """
+>>> from sharebags.cuts import connected_sets, cut_beads, fewest_cuts, hang_together, most_even
+>>> from sharebags.cuts import outer_bags, without_bag, without_bead, without_beads
+>>> family = ((0, 1), (1, 2, 3), (3, 4))
+>>> [without_bead(family, 1), without_bag(family, 1), without_beads(family, (1, 3)), cut_beads(family), outer_bags(family), hang_together(family, (1, 2)), fewest_cuts(family, 0, 4), most_even(family), connected_sets(family)]
+[[(0,), (2, 3, 4)], [(0, 1), (2,), (3, 4)], [(0,), (2,), (4,)], (1, 3), (0, 2), True, (1, 3), (3, 1), 19]
+"""
+
 
 class ExamplesTest(unittest.TestCase):
     def test_bags(self):
@@ -87,6 +118,18 @@ class ExamplesTest(unittest.TestCase):
 
     def test_outs(self):
         check_examples(self, OUTS)
+
+    def test_places(self):
+        check_examples(self, PLACES)
+
+    def test_numbers(self):
+        check_examples(self, NUMBERS)
+
+    def test_bagways(self):
+        check_examples(self, BAGWAYS)
+
+    def test_cuts(self):
+        check_examples(self, CUTS)
 
     def test_readme(self):
         check_examples(self, (Path(__file__).parent.parent / "README.md").read_text(encoding="utf-8"))

@@ -3,7 +3,7 @@
 import inspect
 import unittest
 
-from sharebags import bags, codes, counts, errors, orders, outs, ways
+from sharebags import bags, bagways, codes, counts, cuts, errors, numbers, orders, outs, places, ways
 
 LISTED = {
     bags: {
@@ -38,6 +38,24 @@ LISTED = {
         "hung_on": ["family", "bead"], "strung": ["one", "other", "first", "second"], "mended": ["bags"],
         "mending_number": ["bags"],
     },
+    places: {
+        "coarser_at": ["family", "index"], "finer_at": ["family", "index"], "coarser_number": ["family", "coarse"],
+        "finer_number": ["family", "fine"], "one_place": ["family"],
+    },
+    numbers: {
+        "count_with_bags": ["size", "bags"], "count_with_sizes": ["value"], "count_with_degrees": ["value"],
+        "mean_bags": ["size"], "mean_degree": ["size", "bags"], "degree_share": ["size", "bags", "degree"],
+        "outer_mean": ["size", "bags"], "together_share": ["size"],
+    },
+    bagways: {
+        "bag_way": ["family", "one", "other"], "bag_far": ["family", "one", "other"],
+        "gate": ["family", "index", "bead"], "degree_number": ["family"], "degree_family": ["value", "index"],
+    },
+    cuts: {
+        "without_bead": ["family", "bead"], "without_bag": ["family", "index"], "without_beads": ["family", "some"],
+        "cut_beads": ["family"], "outer_bags": ["family"], "fewest_cuts": ["family", "one", "other"],
+        "most_even": ["family"], "hang_together": ["family", "some"], "connected_sets": ["family"],
+    },
 }
 
 
@@ -57,6 +75,10 @@ class InterfaceTest(unittest.TestCase):
         self.assertEqual(counts.count_ways(coarse=((0, 1, 2, 3),), fine=family), 1)
         self.assertEqual(codes.family_at(size=4, bags=2, index=2), family)
         self.assertEqual(ways.meeting(family=family, one=0, other=1, third=3), ("bag", 0))
+        self.assertEqual(places.finer_number(family=family, fine=family), 0)
+        self.assertEqual(numbers.degree_share(size=4, bags=2, degree=2), (1, 4))
+        self.assertEqual(bagways.gate(family=family, index=1, bead=0), 2)
+        self.assertEqual(cuts.fewest_cuts(family=family, one=0, other=3), (2,))
         self.assertEqual(outs.strung(one=((0, 1),), other=((0, 1),), first=1, second=0), ((0, 1), (1, 2)))
 
     def test_nothing_else_is_public(self):

@@ -22,29 +22,17 @@ def beads_of(family):
     return range(size_of(family))
 
 
-def all_ways(family, one, other):
-    """All ways between two beads, by the words of the document."""
-    found, open_ways = [], [(one,)]
-    for steps in open_ways:
-        if steps[-1] == other:
-            found.append(steps)
-        for index, bag in enumerate(family):
-            if steps[-1] in bag and index not in steps[1::2]:
-                open_ways += [steps + (index, bead) for bead in bag if bead not in steps[::2]]
-    return found
-
-
 def rows_of(family):
     """The distances of all beads by the one way between them."""
     beads = beads_of(family)
-    return [[len(all_ways(family, one, other)[0]) // 2 for other in beads] for one in beads]
+    return [[len(naive.all_ways(family, one, other)[0]) // 2 for other in beads] for one in beads]
 
 
 class WayTest(unittest.TestCase):
     def test_the_only_way(self):
         for family in FEW:
             for one, other in product(beads_of(family), repeat=2):
-                found = all_ways(family, one, other)
+                found = naive.all_ways(family, one, other)
                 self.assertEqual(len(found), 1)
                 self.assertEqual(bead_way(family, one, other), found[0])
                 self.assertEqual(far(family, one, other), len(found[0]) // 2)
@@ -123,7 +111,7 @@ class MeetingTest(unittest.TestCase):
     def test_against_all_ways(self):
         for family in FEW:
             for three in product(beads_of(family), repeat=3):
-                steps = [all_ways(family, one, other)[0] for one, other in combinations(three, 2)]
+                steps = [naive.all_ways(family, one, other)[0] for one, other in combinations(three, 2)]
                 met = [bead for bead in beads_of(family) if all(bead in way[::2] for way in steps)]
                 if met:
                     expected = ("bead", met[0])
@@ -166,7 +154,7 @@ class SomeTest(unittest.TestCase):
             beads = beads_of(family)
             for many in range(1, min(len(beads), 4) + 1):
                 for some in combinations(beads, many):
-                    steps = [all_ways(family, one, other)[0] for one, other in product(some, repeat=2)]
+                    steps = [naive.all_ways(family, one, other)[0] for one, other in product(some, repeat=2)]
                     expected = (
                         tuple(sorted({bead for way in steps for bead in way[::2]})),
                         tuple(sorted({index for way in steps for index in way[1::2]})),
