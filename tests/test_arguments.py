@@ -4,10 +4,11 @@ import unittest
 from copy import deepcopy
 from itertools import product
 
-from sharebags import bagways, codes, counts, cuts, numbers, outs, places, ways
+from sharebags import bagways, blind, codes, colors, counts, cuts, numbers, outs, pairs, places, ways, weights
 from sharebags.bags import degrees, is_family
-from sharebags.errors import BadBags, BadBead, BadBeads, BadCode, BadFamily, BadNumber, BadSizes
+from sharebags.errors import BadBags, BadBead, BadBeads, BadCode, BadFamily, BadNumber, BadPrices, BadSizes, TooGreat
 from tests.calls import check_error, check_lists_are_new
+from tests.samples import PATH, STAR
 from tests.wrong import FAMILIES, GREAT, INTEGERS, NO_BAGS, NO_FAMILIES, OTHER_KINDS
 
 FAMILY = ((0, 1), (1, 2, 3), (3, 4))
@@ -23,6 +24,13 @@ NO_TUPLES_OF_BEADS = OTHER_KINDS + INTEGERS + [
 NO_NUMBERS = OTHER_KINDS + INTEGERS + [
     (), (-1, 2), (-GREAT, 2), (True, 2), (2, True), (2, False), (2, None), (None, 2), ("2", 2), (2, "2"), "22", [2, 2],
     ([2, 2],), ((2, 2),), ((2,), (2,)), (2, (2,)), (2, [2]), (2, {}), {2: 2}, FAMILY,
+]
+PRICES = tuple(tuple(abs(one - other) for other in range(5)) for one in range(5))
+# Of five integers at least one is wrong here, or there are not five.
+NO_WEIGHTS = OTHER_KINDS + INTEGERS + [
+    (), (3,), (3, 1, 4, 1), (3, 1, 4, 1, 5, 9), [3, 1, 4, 1, 5], (True, 1, 4, 1, 5), (3, 1, 4, 1, False), (3, None, 4, 1, 5),
+    (3, 1, 4, 1, "5"), "31415", ((3, 1, 4, 1, 5),), (3, (1,), 4, 1, 5), (3, [1], 4, 1, 5), (3, {}, 4, 1, 5),
+    (3, 1, 4, 1, GREAT), (-GREAT, 1, 4, 1, 5), (3, 1, 4, 1, 10 ** 6 + 1), {0: 3, 1: 1, 2: 4, 3: 1, 4: 5}, FAMILY, WHOLE,
 ]
 NO_SIZES = OTHER_KINDS + TUPLES + [-GREAT, -2, -1, 0, 1, 201, 202, 1000, GREAT]
 
@@ -45,6 +53,16 @@ KINDS = {
     "numbers of bags": ((1, 1, 2, 1), [(BadSizes, NO_NUMBERS + [(0, 1), (1, 201), (1,) * 201, (1, GREAT)])]),
     "degrees": ((1, 1, 2, 1), [(BadSizes, NO_NUMBERS + [(0, 1), (1, 2), (60, 1), (1,) * 61, (1, GREAT), (2,) * 60])]),
     "number of degrees": (2, [(BadNumber, OTHER_KINDS + TUPLES + [-1, -3, 3, 4, GREAT])]),
+    "family of few bags": (FAMILY, [(BadBags, NO_BAGS), (BadFamily, NO_FAMILIES), (TooGreat, [PATH, STAR, PATH[:9]])]),
+    "pourings": (1, [(BadNumber, OTHER_KINDS + TUPLES + [-1, -3, 3, 4, 8, GREAT])]),
+    "prices": (PRICES, [(BadPrices, NO_WEIGHTS + [PRICES[:4], PRICES + PRICES[:1], ((1,) * 5,) * 5, ((0, 1, 1, 1, 2),) * 5])]),
+    "weights": ((3, 1, 4, 1, 5), [(BadPrices, NO_WEIGHTS + [(3, 1, 4, 1, -1), (-(10 ** 6),) * 5])]),
+    "weights below 0": ((3, -1, 4, -1, 5), [(BadPrices, NO_WEIGHTS + [(3, 1, 4, 1, -1 - 10 ** 6)])]),
+    "colors": (3, [(BadNumber, OTHER_KINDS + TUPLES + [-GREAT, -3, -1, 0, 61, 62, GREAT])]),
+    "number of unlike ones": (23, [(BadNumber, OTHER_KINDS + TUPLES + [-1, -24, 24, 25, GREAT])]),
+    "unlike coloring": ((0, 1, 2, 0, 1), [(BadNumber, NO_WEIGHTS + [(0, 0, 1, 2, 0), (0, 1, 2, 3, 0), (0, 1, 2, 0, 60)])]),
+    "coloring": ((0, 0, 1, 0, 59), [(BadNumber, NO_WEIGHTS + [(0, 0, 0, 0, 60), (0, 0, 0, -1, 0)])]),
+    "anything": (None, []),
     "code": ((((1, 2), (3,)), (2,)), [(BadCode, NO_BAGS + NO_FAMILIES)]),
 }
 
@@ -78,6 +96,22 @@ TABLE = [
     (cuts.without_bag, ["family", "index"]), (cuts.cut_beads, ["family"]), (cuts.outer_bags, ["family"]),
     (cuts.hang_together, ["family", "some"]), (cuts.connected_sets, ["family"]), (cuts.most_even, ["family"]),
     (cuts.fewest_cuts, ["family", "bead", "bead"]),
+    (pairs.count_pairs, ["family"]), (pairs.pair_families, ["family"]), (pairs.cheapest, ["family", "prices"]),
+    (pairs.dearest, ["family", "prices"]), (pairs.pair_price_sum, ["family", "prices"]),
+    (pairs.shows_cheapest, ["family", "prices", "anything"]),
+    (weights.bag_loads, ["family"]), (weights.bead_loads, ["family"]), (weights.weighed_sums, ["family", "weights"]),
+    (weights.best_place, ["family", "weights"]), (weights.weighed_pairs, ["family", "weights"]),
+    (weights.heaviest_apart, ["family", "weights"]), (weights.shows_apart, ["family", "weights", "anything"]),
+    (weights.count_apart, ["family"]), (weights.least_cover, ["family", "weights"]),
+    (weights.heaviest_joined, ["family", "weights below 0"]),
+    (colors.unlike, ["family", "colors"]), (colors.not_alike, ["family", "colors"]), (colors.fewest_colors, ["family"]),
+    (colors.coloring_at, ["family", "colors", "number of unlike ones"]),
+    (colors.coloring_number, ["family", "colors", "unlike coloring"]),
+    (colors.shows_coloring, ["family", "colors", "anything"]), (colors.alike_pairs, ["family", "coloring"]),
+    (blind.chances, ["family of few bags", "pourings"]), (blind.likeliest, ["family of few bags", "pourings"]),
+    (blind.mean_greatest, ["family of few bags", "pourings"]), (blind.last_pair, ["family of few bags"]),
+    (blind.together_chance, ["family of few bags", "bead", "bead", "pourings"]),
+    (blind.mean_wait, ["family of few bags", "bead", "bead"]),
 ]
 
 
@@ -126,6 +160,7 @@ class AnswersTest(unittest.TestCase):
             lambda: counts.ways(WHOLE, FAMILY), lambda: counts.between(FAMILY, FAMILY), lambda: counts.ways(WHOLE, WHOLE),
             lambda: cuts.without_bead(FAMILY, 1), lambda: cuts.without_beads(FAMILY, (1, 3)),
             lambda: cuts.without_bag(FAMILY, 1), lambda: cuts.without_bag(WHOLE, 0),
+            lambda: pairs.pair_families(FAMILY), lambda: pairs.pair_families(WHOLE),
         ]
         check_lists_are_new(self, calls)
 
@@ -136,16 +171,29 @@ class AnswersTest(unittest.TestCase):
                 counts.count_ways, counts.mobius, codes.family_number, ways.far, ways.sum_far, ways.width,
                 ways.nearest, outs.mending_number, places.coarser_number, places.finer_number, numbers.count_with_bags,
                 numbers.count_with_sizes, numbers.count_with_degrees, bagways.bag_far, bagways.gate,
-                bagways.degree_number, cuts.connected_sets,
+                bagways.degree_number, cuts.connected_sets, pairs.count_pairs, pairs.dearest, pairs.pair_price_sum,
+                weights.weighed_pairs, weights.count_apart, weights.least_cover, weights.heaviest_joined, colors.unlike,
+                colors.not_alike, colors.fewest_colors, colors.coloring_number, colors.alike_pairs,
             ],
             list: [
                 counts.coarser, counts.between, counts.ways, cuts.without_bead, cuts.without_beads, cuts.without_bag,
+                pairs.pair_families,
             ],
-            bool: [cuts.hang_together],
+            bool: [cuts.hang_together, pairs.shows_cheapest, weights.shows_apart, colors.shows_coloring],
         }
         for function, kinds in TABLE:
             wanted = [kind for kind in expected if function in expected[kind]] or [tuple]
             self.assertIs(type(function(*good_values(kinds))), wanted[0], function.__name__)
+
+    def test_any_value_may_be_shown(self):
+        values = OTHER_KINDS + INTEGERS + NO_BAGS + NO_FAMILIES + FAMILIES + TUPLES + NO_WEIGHTS
+        for function, kinds in TABLE:
+            if kinds[-1] == "anything":
+                for value in values:
+                    told = [*good_values(kinds)[:-1], value]
+                    before = deepcopy(told)
+                    self.assertIs(type(function(*told)), bool)
+                    self.assertEqual(repr(told), repr(before))
 
     def test_nothing_within_is_a_list_or_a_boolean(self):
         def check_within(value):

@@ -99,6 +99,39 @@ CUTS = """
 [[(0,), (2, 3, 4)], [(0, 1), (2,), (3, 4)], [(0,), (2,), (4,)], (1, 3), (0, 2), True, (1, 3), (3, 1), 19]
 """
 
+PAIRS = """
+>>> from sharebags.pairs import cheapest, count_pairs, dearest, pair_families, pair_price_sum, shows_cheapest
+>>> family = ((0, 1, 2), (2, 3))
+>>> prices = ((0, 1, 2, 9), (1, 0, 4, 9), (2, 4, 0, 5), (9, 9, 5, 0))
+>>> [count_pairs(family), len(pair_families(family)), cheapest(family, prices)[0], dearest(family, prices), pair_price_sum(family, prices), shows_cheapest(family, prices, ((0, 1), (0, 2), (2, 3)))]
+[3, 3, 8, 11, 29, True]
+"""
+
+WEIGHTS = """
+>>> from sharebags.weights import bag_loads, bead_loads, best_place, count_apart, heaviest_apart
+>>> from sharebags.weights import heaviest_joined, least_cover, shows_apart, weighed_pairs, weighed_sums
+>>> family = ((0, 1, 2), (2, 3))
+>>> weights = (1, 2, 3, 4)
+>>> [weighed_sums(family, weights), best_place(family, weights), weighed_pairs(family, weights), heaviest_apart(family, weights), shows_apart(family, weights, (1, 3))]
+[(13, 12, 7, 9), (7, 2), 47, (6, (1, 3)), True]
+>>> [count_apart(family), least_cover(family, weights), heaviest_joined(family, (1, -5, 2, 4)), bag_loads(family), bead_loads(family)]
+[7, 3, 7, (5, 3), (0, 0, 2, 0)]
+"""
+
+COLORS = """
+>>> from sharebags.colors import alike_pairs, coloring_at, coloring_number, fewest_colors, not_alike, shows_coloring, unlike
+>>> family = ((0, 1, 2), (2, 3))
+>>> [unlike(family, 3), not_alike(family, 2), fewest_colors(family), coloring_at(family, 3, 0), coloring_number(family, 3, (0, 1, 2, 1)), shows_coloring(family, 3, (0, 0, 1, 2)), alike_pairs(family, (0, 0, 1, 1))]
+[12, 6, 3, (0, 1, 2, 0), 1, False, 2]
+"""
+
+BLIND = """
+>>> from sharebags.blind import chances, last_pair, likeliest, mean_greatest, mean_wait, together_chance
+>>> family = ((0, 1), (1, 2), (2, 3))
+>>> [chances(family, 1), together_chance(family, 0, 2, 1), mean_wait(family, 0, 3), mean_greatest(family, 1), likeliest(family, 1), last_pair(((0, 1),))]
+[((((0, 1), (1, 2, 3)), (1, 2)), (((0, 1, 2), (2, 3)), (1, 2))), (1, 2), (2, 1), (3, 1), ((0, 1), (1, 2, 3)), ()]
+"""
+
 
 class ExamplesTest(unittest.TestCase):
     def test_bags(self):
@@ -130,6 +163,18 @@ class ExamplesTest(unittest.TestCase):
 
     def test_cuts(self):
         check_examples(self, CUTS)
+
+    def test_pairs(self):
+        check_examples(self, PAIRS)
+
+    def test_weights(self):
+        check_examples(self, WEIGHTS)
+
+    def test_colors(self):
+        check_examples(self, COLORS)
+
+    def test_blind(self):
+        check_examples(self, BLIND)
 
     def test_readme(self):
         check_examples(self, (Path(__file__).parent.parent / "README.md").read_text(encoding="utf-8"))

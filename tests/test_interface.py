@@ -3,7 +3,8 @@
 import inspect
 import unittest
 
-from sharebags import bags, bagways, codes, counts, cuts, errors, numbers, orders, outs, places, ways
+from sharebags import bags, bagways, blind, codes, colors, counts, cuts, errors
+from sharebags import numbers, orders, outs, pairs, places, ways, weights
 
 LISTED = {
     bags: {
@@ -56,6 +57,27 @@ LISTED = {
         "cut_beads": ["family"], "outer_bags": ["family"], "fewest_cuts": ["family", "one", "other"],
         "most_even": ["family"], "hang_together": ["family", "some"], "connected_sets": ["family"],
     },
+    pairs: {
+        "count_pairs": ["family"], "dearest": ["family", "prices"], "pair_price_sum": ["family", "prices"],
+        "pair_families": ["family"], "cheapest": ["family", "prices"],
+        "shows_cheapest": ["family", "prices", "value"],
+    },
+    weights: {
+        "weighed_sums": ["family", "weights"], "bag_loads": ["family"], "bead_loads": ["family"],
+        "best_place": ["family", "weights"], "heaviest_apart": ["family", "weights"],
+        "weighed_pairs": ["family", "weights"], "count_apart": ["family"], "least_cover": ["family", "weights"],
+        "heaviest_joined": ["family", "weights"], "shows_apart": ["family", "weights", "value"],
+    },
+    colors: {
+        "unlike": ["family", "colors"], "not_alike": ["family", "colors"], "fewest_colors": ["family"],
+        "coloring_number": ["family", "colors", "value"], "alike_pairs": ["family", "value"],
+        "coloring_at": ["family", "colors", "index"], "shows_coloring": ["family", "colors", "value"],
+    },
+    blind: {
+        "chances": ["family", "times"], "last_pair": ["family"], "likeliest": ["family", "times"],
+        "together_chance": ["family", "one", "other", "times"], "mean_wait": ["family", "one", "other"],
+        "mean_greatest": ["family", "times"],
+    },
 }
 
 
@@ -79,6 +101,10 @@ class InterfaceTest(unittest.TestCase):
         self.assertEqual(numbers.degree_share(size=4, bags=2, degree=2), (1, 4))
         self.assertEqual(bagways.gate(family=family, index=1, bead=0), 2)
         self.assertEqual(cuts.fewest_cuts(family=family, one=0, other=3), (2,))
+        self.assertEqual(pairs.dearest(family=((0, 1),), prices=((0, 8), (8, 0))), 8)
+        self.assertEqual(weights.shows_apart(family=family, weights=(1, 2, 3, 4), value=(1, 3)), True)
+        self.assertEqual(colors.coloring_at(family=family, colors=3, index=0), (0, 1, 2, 0))
+        self.assertEqual(blind.together_chance(family=family, one=0, other=3, times=1), (1, 1))
         self.assertEqual(outs.strung(one=((0, 1),), other=((0, 1),), first=1, second=0), ((0, 1), (1, 2)))
 
     def test_nothing_else_is_public(self):
