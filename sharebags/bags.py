@@ -6,6 +6,7 @@ from sharebags.checks import is_ascending, is_between, is_integer, makes_family
 from sharebags.errors import BadPart, BadPour
 from sharebags.masks import mask_of
 from sharebags.pourings import bead_count, degrees_of, parted_at, poured_together, sharing_pairs
+from sharebags.steps import families_parted, families_poured
 
 
 def is_family(value):
@@ -68,20 +69,15 @@ def part(family, index, bead, side):
 def poured(family):
     """The ascending list of the families that come by one pouring."""
     check_family(family)
-    pairs = sharing_pairs(family)
-    check_listed(len(pairs))
-    return sorted([poured_together(family, pair) for pair in pairs])
+    check_listed(len(sharing_pairs(family)))
+    return sorted(families_poured(family))
 
 
 def parted(family):
     """The ascending list of the families that come by one parting."""
     check_family(family)
     check_listed(_count_partings(family))
-    found = []
-    for index, bag in enumerate(family):
-        for bead in bag:
-            found.extend([parted_at(family, index, bead, side) for side in _sides(bag, bead)])
-    return sorted(found)
+    return sorted(families_parted(family))
 
 
 def moves(family):
@@ -115,13 +111,3 @@ def _count_partings(family):
     """The number of families that come by one parting."""
     # Each bead of a bag may stay in both, with the others in two heaps, neither of them empty.
     return sum(len(bag) * ((1 << (len(bag) - 2)) - 1) for bag in family)
-
-
-def _sides(bag, bead):
-    """The list of the sides by which a bag is parted at a bead, one for each two heaps of the others."""
-    # The first other bead is in each side: so no two heaps are told twice.
-    first, *rest = [other for other in bag if other != bead]
-    found = []
-    for told in range((1 << len(rest)) - 1):
-        found.append((first, *[rest[k] for k in range(len(rest)) if (told >> k) & 1]))
-    return found

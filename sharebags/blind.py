@@ -3,12 +3,10 @@
 A chance is told by lots: a family's lots are to all lots as its chance is to 1.
 """
 
-from math import lcm
-
 from sharebags.checks import check_bead, check_few_bags, check_number
 from sharebags.masks import lies_within, mask_of, masks_of
-from sharebags.pourings import poured_together, sharing_pairs
-from sharebags.ratios import ratio
+from sharebags.pourings import greatest_size, poured_together, sharing_pairs
+from sharebags.ratios import common_multiple, ratio
 
 MOST_BAGS = 8
 
@@ -31,7 +29,7 @@ def mean_greatest(family, times):
     """The ratio of the mean number of beads of a greatest bag behind so many pourings."""
     _check_family_and_times(family, times)
     lots = _lots_behind(family, times)
-    return ratio(sum([lots[coarse] * max([len(bag) for bag in coarse]) for coarse in lots]), _all_lots(lots))
+    return ratio(sum([lots[coarse] * greatest_size(coarse) for coarse in lots]), _all_lots(lots))
 
 
 def together_chance(family, one, other, times):
@@ -90,9 +88,7 @@ def _poured_once(lots):
     """The dict of the lots of the families behind one pouring more."""
     pairs = {family: sharing_pairs(family) for family in lots}
     # With so many times the lots those of each family can be dealt out to its pourings evenly.
-    many = 1
-    for family in pairs:
-        many = lcm(many, len(pairs[family]))
+    many = common_multiple([len(pairs[family]) for family in pairs])
     found = {}
     for family in pairs:
         each = lots[family] * many // len(pairs[family])

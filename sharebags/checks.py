@@ -7,6 +7,7 @@ from sharebags.pourings import bead_count, lies_below
 
 MOST_BEADS = 60
 MOST_LISTED = 500
+MOST_FAMILIES = 20
 
 
 def is_integer(value):
@@ -71,12 +72,32 @@ def check_few_bags(value, most):
         raise TooGreat(most)
 
 
+def check_few_beads(value, most):
+    """Raise the errors of a family, then TooGreat for one with more beads than so many."""
+    check_family(value)
+    if bead_count(value) > most:
+        raise TooGreat(most)
+
+
+def check_family_tuple(value):
+    """Raise BadNumber for a value that is no tuple of 1 to 20 items, then the errors of its families in their order."""
+    if not isinstance(value, tuple) or not 1 <= len(value) <= MOST_FAMILIES:
+        raise BadNumber()
+    for family in value:
+        check_family(family)
+
+
+def check_same_beads(families):
+    """Raise OtherBeads if not all families have as many beads."""
+    if any(bead_count(family) != bead_count(families[0]) for family in families):
+        raise OtherBeads()
+
+
 def check_families(one, other):
     """Raise the errors of two families, then OtherBeads if they have different numbers of beads."""
     check_family(one)
     check_family(other)
-    if bead_count(one) != bead_count(other):
-        raise OtherBeads()
+    check_same_beads([one, other])
 
 
 def check_finer(coarse, fine):

@@ -4,7 +4,7 @@ from sharebags.checks import are_integers, check_family, check_number
 from sharebags.digits import digits_at, number_with
 from sharebags.errors import BadNumber
 from sharebags.hangings import hung_bags
-from sharebags.pourings import bead_count
+from sharebags.pourings import bead_count, greatest_size
 from sharebags.tallies import power, product_of
 
 MOST_COLORS = 60
@@ -26,7 +26,7 @@ def not_alike(family, colors):
 def fewest_colors(family):
     """The fewest colors for a coloring with no two beads alike in a bag."""
     check_family(family)
-    return max([len(bag) for bag in family])
+    return greatest_size(family)
 
 
 def coloring_at(family, colors, index):

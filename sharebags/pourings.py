@@ -1,11 +1,17 @@
 """Pouring and parting in families that are known to be families."""
 
-from sharebags.masks import lies_within, mask_of, masks_of
+from sharebags.bars import first_bar
+from sharebags.masks import beads_of, holds_two, lies_within, mask_of, masks_of
 
 
 def bead_count(family):
     """The number of beads of a family."""
     return max(bag[-1] for bag in family) + 1
+
+
+def greatest_size(family):
+    """The number of beads of a greatest bag of a family."""
+    return max(len(bag) for bag in family)
 
 
 def degrees_of(family):
@@ -52,17 +58,20 @@ def lies_below(fine, coarse):
 
 def bags_on_ways(family, start):
     """For each bead the list of the indexes of the bags on the way to it from a bead."""
+    holding = {}
+    for index, bag in enumerate(family):
+        for bead in bag:
+            holding.setdefault(bead, []).append(index)
     ways = {start: []}
     fresh = [start]
     while fresh:
         bead = fresh.pop()
-        for index, bag in enumerate(family):
-            if bead in bag:
-                for neighbor in bag:
-                    # In a tree the first way that comes to a bead is the only one.
-                    if neighbor not in ways:
-                        ways[neighbor] = [*ways[bead], index]
-                        fresh.append(neighbor)
+        for index in holding[bead]:
+            for neighbor in family[index]:
+                # In a tree the first way that comes to a bead is the only one.
+                if neighbor not in ways:
+                    ways[neighbor] = [*ways[bead], index]
+                    fresh.append(neighbor)
     return ways
 
 
@@ -79,6 +88,16 @@ def finest_above(one, other):
     for bag in other:
         grown = with_bag_inside(grown, bag)
     return grown
+
+
+def coarsest_below(one, other):
+    """The coarsest family that is finer than two families with as many beads, None if there is none."""
+    met = [mask & beside for mask in masks_of(one) for beside in masks_of(other)]
+    found = tuple(sorted([beads_of(mask) for mask in met if holds_two(mask)]))
+    if not found or first_bar(found) is not None:
+        return None
+    # Meetings may be a family of fewer beads, which is not finer.
+    return found if bead_count(found) == bead_count(one) else None
 
 
 def poured_below(family, coarse):

@@ -4,9 +4,11 @@ import unittest
 from copy import deepcopy
 from itertools import product
 
-from sharebags import bagways, blind, codes, colors, counts, cuts, numbers, outs, pairs, places, ways, weights
+from sharebags import bagways, blind, codes, colors, counts, cuts, games, many
+from sharebags import numbers, outs, pairs, places, shapes, walks, ways, weights
 from sharebags.bags import degrees, is_family
-from sharebags.errors import BadBags, BadBead, BadBeads, BadCode, BadFamily, BadNumber, BadPrices, BadSizes, TooGreat
+from sharebags.errors import BadBags, BadBead, BadBeads, BadCode, BadFamily, BadNames, BadNumber, BadPrices, BadSizes
+from sharebags.errors import OtherBeads, TooGreat
 from tests.calls import check_error, check_lists_are_new
 from tests.samples import PATH, STAR
 from tests.wrong import FAMILIES, GREAT, INTEGERS, NO_BAGS, NO_FAMILIES, OTHER_KINDS
@@ -63,6 +65,18 @@ KINDS = {
     "unlike coloring": ((0, 1, 2, 0, 1), [(BadNumber, NO_WEIGHTS + [(0, 0, 1, 2, 0), (0, 1, 2, 3, 0), (0, 1, 2, 0, 60)])]),
     "coloring": ((0, 0, 1, 0, 59), [(BadNumber, NO_WEIGHTS + [(0, 0, 0, 0, 60), (0, 0, 0, -1, 0)])]),
     "anything": (None, []),
+    "steps": (7, [(BadNumber, OTHER_KINDS + TUPLES + [-GREAT, -7, -1, 201, 202, 1000, GREAT])]),
+    "few steps": (7, [(BadNumber, OTHER_KINDS + TUPLES + [-GREAT, -7, -1, 13, 14, 200, GREAT])]),
+    "most": (3, [(BadNumber, OTHER_KINDS + TUPLES + [-GREAT, -3, -1, 0, 1, 61, 62, GREAT])]),
+    "family of few beads": (FAMILY, [(BadBags, NO_BAGS), (BadFamily, NO_FAMILIES), (TooGreat, [PATH, STAR, PATH[:6]])]),
+    "turns": (3, [(BadNumber, OTHER_KINDS + TUPLES + [-GREAT, -3, -1, 9, 10, GREAT])]),
+    "families": ((FAMILY, WHOLE, FAMILY), [
+        (BadNumber, OTHER_KINDS + INTEGERS + [(), [FAMILY, WHOLE], (FAMILY,) * 21, (None,) * 21, {FAMILY: WHOLE}]),
+        (BadBags, [(value,) for value in NO_BAGS] + [(FAMILY, value, NO_FAMILIES[0]) for value in NO_BAGS] + [FAMILY, WHOLE]),
+        (BadFamily, [(FAMILY, value, None) for value in NO_FAMILIES]),
+        (OtherBeads, [(FAMILY, PATH), (FAMILY, FAMILY, ((0, 1),))]),
+    ]),
+    "names": ((4, 2, 0, 1, 3), [(BadNames, NO_WEIGHTS + [(0, 1, 2, 3, 5), (1, 2, 3, 4, 5), (0, 1, 2, 3, 3), (4, 3, 2, 1, -1)])]),
     "code": ((((1, 2), (3,)), (2,)), [(BadCode, NO_BAGS + NO_FAMILIES)]),
 }
 
@@ -112,6 +126,22 @@ TABLE = [
     (blind.mean_greatest, ["family of few bags", "pourings"]), (blind.last_pair, ["family of few bags"]),
     (blind.together_chance, ["family of few bags", "bead", "bead", "pourings"]),
     (blind.mean_wait, ["family of few bags", "bead", "bead"]),
+    (walks.count_walks, ["family", "bead", "bead", "steps"]), (walks.walk_counts, ["family", "bead", "steps"]),
+    (walks.count_rounds, ["family", "steps"]), (walks.neighbors, ["family"]),
+    (walks.chance_at, ["family", "bead", "bead", "few steps"]), (walks.mean_steps, ["family", "bead", "bead"]),
+    (walks.stay_share, ["family", "bead"]), (walks.resistance, ["family", "bead", "bead"]),
+    (games.game_value, ["family of few bags", "most"]), (games.first_wins, ["family of few bags", "most"]),
+    (games.winning_pours, ["family of few bags", "most"]), (games.stops, ["family of few bags", "most"]),
+    (games.both_win, ["family of few bags", "family of few bags", "most"]),
+    (games.play_lengths, ["family of few bags", "most"]),
+    (games.pourer_wins, ["family of few beads", "bead", "bead", "turns"]),
+    (many.common_coarser, ["families"]), (many.common_finer, ["families"]), (many.distances, ["families"]),
+    (many.widest_pair, ["families"]), (many.middle_of, ["families"]), (many.coarsest_of, ["families"]),
+    (many.round_trip, ["families"]), (many.nearest_of, ["family", "families"]),
+    (many.together_counts, ["families", "bead"]),
+    (shapes.heart, ["family"]), (shapes.shape, ["family"]), (shapes.same_shape, ["family", "whole"]),
+    (shapes.renamed, ["family", "names"]), (shapes.renamings, ["family"]), (shapes.copies, ["family"]),
+    (shapes.kinds, ["family"]),
 ]
 
 
@@ -142,6 +172,8 @@ class ArgumentsTest(unittest.TestCase):
         for function, kinds in TABLE:
             for told in product(*[few_values(kind) for kind in kinds]):
                 errors = [error for _, error in told if error is not None]
+                # Other numbers of beads are found behind the errors of all arguments.
+                errors = [error for error in errors if error is not OtherBeads] or errors
                 if errors:
                     check_error(self, errors[0], function, *[value for value, _ in told])
 
@@ -161,6 +193,7 @@ class AnswersTest(unittest.TestCase):
             lambda: cuts.without_bead(FAMILY, 1), lambda: cuts.without_beads(FAMILY, (1, 3)),
             lambda: cuts.without_bag(FAMILY, 1), lambda: cuts.without_bag(WHOLE, 0),
             lambda: pairs.pair_families(FAMILY), lambda: pairs.pair_families(WHOLE),
+            lambda: games.winning_pours(((0, 1), (1, 2)), 60), lambda: games.stops(FAMILY, 60), lambda: games.stops(WHOLE, 2),
         ]
         check_lists_are_new(self, calls)
 
@@ -174,12 +207,17 @@ class AnswersTest(unittest.TestCase):
                 bagways.degree_number, cuts.connected_sets, pairs.count_pairs, pairs.dearest, pairs.pair_price_sum,
                 weights.weighed_pairs, weights.count_apart, weights.least_cover, weights.heaviest_joined, colors.unlike,
                 colors.not_alike, colors.fewest_colors, colors.coloring_number, colors.alike_pairs,
+                walks.count_walks, walks.count_rounds, games.game_value, many.round_trip, shapes.renamings, shapes.copies,
             ],
             list: [
                 counts.coarser, counts.between, counts.ways, cuts.without_bead, cuts.without_beads, cuts.without_bag,
-                pairs.pair_families,
+                pairs.pair_families, games.winning_pours, games.stops,
             ],
-            bool: [cuts.hang_together, pairs.shows_cheapest, weights.shows_apart, colors.shows_coloring],
+            bool: [
+                cuts.hang_together, pairs.shows_cheapest, weights.shows_apart, colors.shows_coloring, games.first_wins,
+                games.both_win, games.pourer_wins, shapes.same_shape,
+            ],
+            str: [shapes.shape],
         }
         for function, kinds in TABLE:
             wanted = [kind for kind in expected if function in expected[kind]] or [tuple]
@@ -213,6 +251,8 @@ class AnswersTest(unittest.TestCase):
             found = [outs.mended(family), codes.family_of(codes.code(family))]
             found += [places.coarser_at(family, 0), places.finer_at(family, places.one_place(family)[1] // 2)]
             found += [bagways.degree_family(degrees(family), 0)]
+            found += [many.common_coarser((family,) * 3), many.common_finer((family,) * 3)]
+            found += [shapes.renamed(family, tuple(range(len(degrees(family))))[::-1])]
             found += [codes.next_family(family)] if codes.next_family(family) else []
             if counts.count_coarser(family) <= 500:
                 found += counts.coarser(family)

@@ -132,6 +132,37 @@ BLIND = """
 [((((0, 1), (1, 2, 3)), (1, 2)), (((0, 1, 2), (2, 3)), (1, 2))), (1, 2), (2, 1), (3, 1), ((0, 1), (1, 2, 3)), ()]
 """
 
+WALKS = """
+>>> from sharebags.walks import chance_at, count_rounds, count_walks, mean_steps, neighbors, resistance, stay_share, walk_counts
+>>> family = ((0, 1, 2), (2, 3))
+>>> [count_walks(family, 0, 3, 2), walk_counts(family, 0, 1), count_rounds(family, 2), neighbors(family), resistance(family, 0, 3), mean_steps(family, 3, 2), stay_share(family, 2), chance_at(family, 0, 3, 2)]
+[1, (0, 1, 1, 0), 8, (2, 2, 3, 1), (5, 3), (1, 1), (3, 8), (1, 6)]
+"""
+
+GAMES = """
+>>> from sharebags.games import both_win, first_wins, game_value, play_lengths, pourer_wins, stops, winning_pours
+>>> family = ((0, 1), (1, 2), (2, 3))
+>>> [game_value(family, 3), first_wins(family, 3), winning_pours(family, 3), play_lengths(family, 3), stops(family, 3), both_win(family, family, 3), pourer_wins(family, 0, 2, 1)]
+[1, True, [(0, 1), (1, 2)], (1, 1), [((0, 1), (1, 2, 3)), ((0, 1, 2), (2, 3))], False, True]
+"""
+
+MANY = """
+>>> from sharebags.many import coarsest_of, common_coarser, common_finer, distances, middle_of
+>>> from sharebags.many import nearest_of, round_trip, together_counts, widest_pair
+>>> one, other, whole = ((0, 1), (1, 2)), ((0, 2), (1, 2)), ((0, 1, 2),)
+>>> [common_coarser((one, other)), common_finer((one, whole)), distances((one, other, whole)), nearest_of(whole, (one, other)), widest_pair((one, other, whole))]
+[((0, 1, 2),), ((0, 1), (1, 2)), ((0, 2, 1), (2, 0, 1), (1, 1, 0)), (1, 0), (2, 0, 1)]
+>>> [middle_of((one, other, whole)), coarsest_of((one, other, whole)), round_trip((one, other, whole)), together_counts((one, other), 0)]
+[(2, 2), (2,), 4, (2, 1, 1)]
+"""
+
+SHAPES = """
+>>> from sharebags.shapes import copies, heart, kinds, renamed, renamings, same_shape, shape
+>>> family = ((0, 1, 2), (2, 3))
+>>> [shape(family), renamings(family), copies(family), same_shape(family, ((0, 3), (1, 2, 3))), renamed(family, (3, 2, 1, 0)), heart(family), kinds(family)]
+['([()()][()])', 2, 12, True, ((0, 1), (1, 2, 3)), ('bead', 2), ((0, 1), (2,), (3,))]
+"""
+
 
 class ExamplesTest(unittest.TestCase):
     def test_bags(self):
@@ -175,6 +206,18 @@ class ExamplesTest(unittest.TestCase):
 
     def test_blind(self):
         check_examples(self, BLIND)
+
+    def test_walks(self):
+        check_examples(self, WALKS)
+
+    def test_games(self):
+        check_examples(self, GAMES)
+
+    def test_many(self):
+        check_examples(self, MANY)
+
+    def test_shapes(self):
+        check_examples(self, SHAPES)
 
     def test_readme(self):
         check_examples(self, (Path(__file__).parent.parent / "README.md").read_text(encoding="utf-8"))

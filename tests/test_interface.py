@@ -3,8 +3,8 @@
 import inspect
 import unittest
 
-from sharebags import bags, bagways, blind, codes, colors, counts, cuts, errors
-from sharebags import numbers, orders, outs, pairs, places, ways, weights
+from sharebags import bags, bagways, blind, codes, colors, counts, cuts, errors, games, many
+from sharebags import numbers, orders, outs, pairs, places, shapes, walks, ways, weights
 
 LISTED = {
     bags: {
@@ -78,6 +78,26 @@ LISTED = {
         "together_chance": ["family", "one", "other", "times"], "mean_wait": ["family", "one", "other"],
         "mean_greatest": ["family", "times"],
     },
+    walks: {
+        "count_walks": ["family", "one", "other", "steps"], "count_rounds": ["family", "steps"],
+        "walk_counts": ["family", "bead", "steps"], "neighbors": ["family"], "resistance": ["family", "one", "other"],
+        "mean_steps": ["family", "one", "other"], "stay_share": ["family", "bead"],
+        "chance_at": ["family", "one", "other", "steps"],
+    },
+    games: {
+        "game_value": ["family", "most"], "first_wins": ["family", "most"], "both_win": ["one", "other", "most"],
+        "pourer_wins": ["family", "one", "other", "turns"], "winning_pours": ["family", "most"],
+        "stops": ["family", "most"], "play_lengths": ["family", "most"],
+    },
+    many: {
+        "common_coarser": ["value"], "common_finer": ["value"], "distances": ["value"],
+        "nearest_of": ["family", "value"], "widest_pair": ["value"], "middle_of": ["value"], "coarsest_of": ["value"],
+        "together_counts": ["value", "one"], "round_trip": ["value"],
+    },
+    shapes: {
+        "shape": ["family"], "same_shape": ["one", "other"], "renamings": ["family"], "copies": ["family"],
+        "renamed": ["family", "names"], "heart": ["family"], "kinds": ["family"],
+    },
 }
 
 
@@ -105,6 +125,12 @@ class InterfaceTest(unittest.TestCase):
         self.assertEqual(weights.shows_apart(family=family, weights=(1, 2, 3, 4), value=(1, 3)), True)
         self.assertEqual(colors.coloring_at(family=family, colors=3, index=0), (0, 1, 2, 0))
         self.assertEqual(blind.together_chance(family=family, one=0, other=3, times=1), (1, 1))
+        self.assertEqual(walks.chance_at(family=family, one=0, other=3, steps=2), (1, 6))
+        self.assertIs(games.both_win(one=family, other=family, most=4), False)
+        self.assertIs(games.pourer_wins(family=family, one=0, other=3, turns=1), True)
+        self.assertEqual(many.together_counts(value=(family, family), one=0), (2, 2, 2, 0))
+        self.assertEqual(many.nearest_of(family=family, value=(family,)), (0, 0))
+        self.assertEqual(shapes.renamed(family=family, names=(3, 2, 1, 0)), ((0, 1), (1, 2, 3)))
         self.assertEqual(outs.strung(one=((0, 1),), other=((0, 1),), first=1, second=0), ((0, 1), (1, 2)))
 
     def test_nothing_else_is_public(self):
