@@ -4,13 +4,14 @@ import unittest
 from copy import deepcopy
 from itertools import product
 
-from sharebags import bagways, blind, codes, colors, counts, cuts, games, many
-from sharebags import numbers, outs, pairs, places, shapes, walks, ways, weights
+from sharebags import bags, bagways, blind, codes, colors, counts, cuts, desks, games, limits, many
+from sharebags import numbers, orders, outs, pairs, places, shapes, small, texts, walks, ways, weights
 from sharebags.bags import degrees, is_family
 from sharebags.errors import BadBags, BadBead, BadBeads, BadCode, BadFamily, BadNames, BadNumber, BadPrices, BadSizes
-from sharebags.errors import OtherBeads, TooGreat
+from sharebags.errors import InvalidText, NotText, OtherBeads, TooGreat
 from tests.calls import check_error, check_lists_are_new
 from tests.samples import PATH, STAR
+from tests.test_interface import LISTED
 from tests.wrong import FAMILIES, GREAT, INTEGERS, NO_BAGS, NO_FAMILIES, OTHER_KINDS
 
 FAMILY = ((0, 1), (1, 2, 3), (3, 4))
@@ -75,6 +76,16 @@ KINDS = {
         (BadBags, [(value,) for value in NO_BAGS] + [(FAMILY, value, NO_FAMILIES[0]) for value in NO_BAGS] + [FAMILY, WHOLE]),
         (BadFamily, [(FAMILY, value, None) for value in NO_FAMILIES]),
         (OtherBeads, [(FAMILY, PATH), (FAMILY, FAMILY, ((0, 1),))]),
+    ]),
+    "small size": (4, [(BadNumber, OTHER_KINDS + TUPLES + [-GREAT, -4, -1, 0, 1, 6, 7, 60, GREAT])]),
+    "paired size": (4, [(BadNumber, OTHER_KINDS + TUPLES + [-GREAT, -4, -1, 0, 1, 5, 6, 7, 60, GREAT])]),
+    "small family": (FAMILY, [(BadBags, NO_BAGS), (BadFamily, NO_FAMILIES), (TooGreat, [PATH, STAR, PATH[:6], PATH[:5]])]),
+    "moves away": (2, [(BadNumber, OTHER_KINDS + TUPLES + [-GREAT, -2, -1, 7, 8, 60, GREAT])]),
+    "small most": (3, [(BadNumber, OTHER_KINDS + TUPLES + [-GREAT, -3, -1, 0, 1, 6, 7, 60, GREAT])]),
+    "text": ("0.1 1.2.3 3.4", [
+        (NotText, [value for value in NO_BAGS + NO_FAMILIES + TUPLES if not isinstance(value, str)]),
+        (InvalidText, ["", "0", "0.1 ", "0.1 1.2.3 3", "0.1  1.2", "0.01", "0.60", "1.1", "0.x", "bags"]),
+        (BadFamily, ["1.2 0.1", "0.1 0.1", "0.1 2.3", "1.2", "0.1 0.2 1.2"]),
     ]),
     "names": ((4, 2, 0, 1, 3), [(BadNames, NO_WEIGHTS + [(0, 1, 2, 3, 5), (1, 2, 3, 4, 5), (0, 1, 2, 3, 3), (4, 3, 2, 1, -1)])]),
     "code": ((((1, 2), (3,)), (2,)), [(BadCode, NO_BAGS + NO_FAMILIES)]),
@@ -142,6 +153,14 @@ TABLE = [
     (shapes.heart, ["family"]), (shapes.shape, ["family"]), (shapes.same_shape, ["family", "whole"]),
     (shapes.renamed, ["family", "names"]), (shapes.renamings, ["family"]), (shapes.copies, ["family"]),
     (shapes.kinds, ["family"]),
+    (small.all_families, ["small size"]), (small.families_with, ["small size", "number of bags"]),
+    (small.shapes, ["small size"]), (small.farthest_pairs, ["paired size"]), (small.farthest, ["small family"]),
+    (small.sphere_sizes, ["family of few beads", "moves away"]), (small.sphere, ["family of few beads", "moves away"]),
+    (limits.distance_within, ["small family", "small family", "small most"]),
+    (limits.way_within, ["small family", "small family", "small most"]),
+    (limits.shows_way_within, ["small family", "small family", "small most", "anything"]),
+    (limits.within_sizes, ["small family", "small most"]),
+    (texts.write, ["family"]), (texts.read, ["text"]), (texts.draw, ["family"]),
 ]
 
 
@@ -159,6 +178,12 @@ def few_values(kind):
 
 
 class ArgumentsTest(unittest.TestCase):
+    def test_all_functions_are_told(self):
+        # Those of bags and orders are called by test_wrong.py, the class of desks by test_desks.py.
+        listed = [(module, name) for module, names in LISTED.items() if module not in (bags, orders) for name in names]
+        told = [function.__module__ + "." + function.__name__ for function, _ in TABLE]
+        self.assertEqual(sorted(told), sorted(module.__name__ + "." + name for module, name in listed))
+
     def test_one_wrong_value(self):
         for function, kinds in TABLE:
             for place, kind in enumerate(kinds):
@@ -194,6 +219,8 @@ class AnswersTest(unittest.TestCase):
             lambda: cuts.without_bag(FAMILY, 1), lambda: cuts.without_bag(WHOLE, 0),
             lambda: pairs.pair_families(FAMILY), lambda: pairs.pair_families(WHOLE),
             lambda: games.winning_pours(((0, 1), (1, 2)), 60), lambda: games.stops(FAMILY, 60), lambda: games.stops(WHOLE, 2),
+            lambda: small.all_families(3), lambda: small.families_with(3, 2), lambda: small.sphere(FAMILY, 2),
+            lambda: limits.way_within(FAMILY, FAMILY, 3), lambda: limits.way_within(FAMILY, WHOLE, 5),
         ]
         check_lists_are_new(self, calls)
 
@@ -208,16 +235,18 @@ class AnswersTest(unittest.TestCase):
                 weights.weighed_pairs, weights.count_apart, weights.least_cover, weights.heaviest_joined, colors.unlike,
                 colors.not_alike, colors.fewest_colors, colors.coloring_number, colors.alike_pairs,
                 walks.count_walks, walks.count_rounds, games.game_value, many.round_trip, shapes.renamings, shapes.copies,
+                limits.distance_within,
             ],
             list: [
                 counts.coarser, counts.between, counts.ways, cuts.without_bead, cuts.without_beads, cuts.without_bag,
-                pairs.pair_families, games.winning_pours, games.stops,
+                pairs.pair_families, games.winning_pours, games.stops, small.all_families, small.families_with, small.sphere,
+                limits.way_within,
             ],
             bool: [
                 cuts.hang_together, pairs.shows_cheapest, weights.shows_apart, colors.shows_coloring, games.first_wins,
-                games.both_win, games.pourer_wins, shapes.same_shape,
+                games.both_win, games.pourer_wins, shapes.same_shape, limits.shows_way_within,
             ],
-            str: [shapes.shape],
+            str: [shapes.shape, texts.write],
         }
         for function, kinds in TABLE:
             wanted = [kind for kind in expected if function in expected[kind]] or [tuple]
@@ -253,6 +282,7 @@ class AnswersTest(unittest.TestCase):
             found += [bagways.degree_family(degrees(family), 0)]
             found += [many.common_coarser((family,) * 3), many.common_finer((family,) * 3)]
             found += [shapes.renamed(family, tuple(range(len(degrees(family))))[::-1])]
+            found += [texts.read(texts.write(family)), desks.Box(family).family]
             found += [codes.next_family(family)] if codes.next_family(family) else []
             if counts.count_coarser(family) <= 500:
                 found += counts.coarser(family)

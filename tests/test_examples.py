@@ -163,6 +163,39 @@ SHAPES = """
 ['([()()][()])', 2, 12, True, ((0, 1), (1, 2, 3)), ('bead', 2), ((0, 1), (2,), (3,))]
 """
 
+SMALL = """
+>>> from sharebags.small import all_families, families_with, farthest, farthest_pairs, shapes, sphere, sphere_sizes
+>>> [len(all_families(3)), families_with(3, 2), sphere_sizes(((0, 1, 2),), 1), len(sphere(((0, 1, 2),), 1)), farthest(((0, 1), (1, 2))), shapes(3), farthest_pairs(3)]
+[4, [((0, 1), (0, 2)), ((0, 1), (1, 2)), ((0, 2), (1, 2))], (1, 3), 3, (2, 2), (('([()][()])', 3), ('[()()()]', 1)), (2, 6)]
+"""
+
+LIMITS = """
+>>> from sharebags.limits import distance_within, shows_way_within, way_within, within_sizes
+>>> one, other, whole = ((0, 1), (1, 2)), ((0, 2), (1, 2)), ((0, 1, 2),)
+>>> [distance_within(one, other, 3), distance_within(one, other, 2), way_within(one, other, 3), shows_way_within(one, other, 3, [one, whole, other]), within_sizes(one, 2)]
+[2, None, [((0, 1), (1, 2)), ((0, 1, 2),), ((0, 2), (1, 2))], True, (1,)]
+>>> distance_within(one, whole, 2)
+raises TooGreat(most=2)
+"""
+
+TEXTS = """
+>>> from sharebags.texts import draw, read, write
+>>> family = ((0, 1, 2), (2, 3))
+>>> [write(family), read("0.1.2 2.3"), draw(family)]
+['0.1.2 2.3', ((0, 1, 2), (2, 3)), ('ooo.', '..oo')]
+>>> read("0.1 1")
+raises InvalidText(place=6)
+"""
+
+DESKS = """
+>>> from sharebags.desks import Box
+>>> box = Box(((0, 1), (1, 2)))
+>>> [box.pour(0, 1), box.part(0, 2, (0,)), box.family, box.made, box.wasted(), box.seen(), box.coarsest(), box.open_pairs(), box.undo(), box.family]
+[None, None, ((0, 2), (1, 2)), 2, 0, 3, 1, ((0, 1),), None, ((0, 1, 2),)]
+>>> box.pour(0, 5)
+raises BadPour()
+"""
+
 
 class ExamplesTest(unittest.TestCase):
     def test_bags(self):
@@ -218,6 +251,18 @@ class ExamplesTest(unittest.TestCase):
 
     def test_shapes(self):
         check_examples(self, SHAPES)
+
+    def test_small(self):
+        check_examples(self, SMALL)
+
+    def test_limits(self):
+        check_examples(self, LIMITS)
+
+    def test_texts(self):
+        check_examples(self, TEXTS)
+
+    def test_desks(self):
+        check_examples(self, DESKS)
 
     def test_readme(self):
         check_examples(self, (Path(__file__).parent.parent / "README.md").read_text(encoding="utf-8"))

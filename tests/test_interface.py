@@ -3,8 +3,8 @@
 import inspect
 import unittest
 
-from sharebags import bags, bagways, blind, codes, colors, counts, cuts, errors, games, many
-from sharebags import numbers, orders, outs, pairs, places, shapes, walks, ways, weights
+from sharebags import bags, bagways, blind, codes, colors, counts, cuts, desks, errors, games, limits, many
+from sharebags import numbers, orders, outs, pairs, places, shapes, small, texts, walks, ways, weights
 
 LISTED = {
     bags: {
@@ -98,10 +98,51 @@ LISTED = {
         "shape": ["family"], "same_shape": ["one", "other"], "renamings": ["family"], "copies": ["family"],
         "renamed": ["family", "names"], "heart": ["family"], "kinds": ["family"],
     },
+    small: {
+        "all_families": ["size"], "families_with": ["size", "bags"], "sphere": ["family", "size"],
+        "sphere_sizes": ["family", "size"], "farthest": ["family"], "shapes": ["size"], "farthest_pairs": ["size"],
+    },
+    limits: {
+        "distance_within": ["one", "other", "most"], "way_within": ["one", "other", "most"],
+        "shows_way_within": ["one", "other", "most", "value"], "within_sizes": ["family", "most"],
+    },
+    texts: {"write": ["family"], "read": ["text"], "draw": ["family"]},
+    desks: {},
 }
+
+BOX_METHODS = {
+    "__init__": ["self", "family"], "pour": ["self", "one", "other"], "part": ["self", "index", "bead", "side"],
+    "undo": ["self"], "open_pairs": ["self"], "wasted": ["self"], "seen": ["self"], "coarsest": ["self"],
+}
+BOX_PROPERTIES = ["family", "made"]
 
 
 class InterfaceTest(unittest.TestCase):
+    def test_all_headings(self):
+        headings = [
+            "bags", "orders", "counts", "places", "numbers", "codes", "ways", "bagways", "cuts", "outs", "pairs", "weights", "colors",
+            "walks", "blind", "games", "many", "small", "limits", "shapes", "texts", "desks",
+        ]
+        self.assertEqual(sorted(module.__name__ for module in LISTED), sorted("sharebags." + name for name in headings))
+
+    def test_box_and_its_methods(self):
+        self.assertEqual([desks.Box.__module__, desks.Box.__bases__], ["sharebags.desks", (object,)])
+        for name, arguments in BOX_METHODS.items():
+            self.assertEqual(list(inspect.signature(vars(desks.Box)[name]).parameters), arguments, name)
+        for name in BOX_PROPERTIES:
+            self.assertIs(type(vars(desks.Box)[name]), property)
+        own = [name for name in vars(desks.Box) if name[0] != "_"]
+        self.assertEqual(sorted(own), sorted([*list(BOX_METHODS)[1:], *BOX_PROPERTIES]))
+        box = desks.Box(family=((0, 1), (1, 2)))
+        box.pour(one=0, other=1)
+        box.part(index=0, bead=2, side=(0,))
+        self.assertEqual(box.family, ((0, 2), (1, 2)))
+
+    def test_modules_have_no_other_classes(self):
+        for module in LISTED:
+            own = [value for value in vars(module).values() if inspect.isclass(value) and value.__module__ == module.__name__]
+            self.assertEqual(own, [desks.Box] if module is desks else [])
+
     def test_functions_stand_in_their_files_with_their_arguments(self):
         for module, functions in LISTED.items():
             for name, arguments in functions.items():
@@ -131,6 +172,11 @@ class InterfaceTest(unittest.TestCase):
         self.assertEqual(many.together_counts(value=(family, family), one=0), (2, 2, 2, 0))
         self.assertEqual(many.nearest_of(family=family, value=(family,)), (0, 0))
         self.assertEqual(shapes.renamed(family=family, names=(3, 2, 1, 0)), ((0, 1), (1, 2, 3)))
+        self.assertEqual(small.families_with(size=3, bags=1), [((0, 1, 2),)])
+        self.assertEqual(small.sphere(family=((0, 1),), size=0), [((0, 1),)])
+        self.assertIs(limits.shows_way_within(one=family, other=family, most=3, value=[family]), True)
+        self.assertEqual(limits.within_sizes(family=((0, 1),), most=2), (1,))
+        self.assertEqual([texts.read(text="0.1"), texts.write(family=((0, 1),)), texts.draw(family=((0, 1),))], [((0, 1),), "0.1", ("oo",)])
         self.assertEqual(outs.strung(one=((0, 1),), other=((0, 1),), first=1, second=0), ((0, 1), (1, 2)))
 
     def test_nothing_else_is_public(self):
