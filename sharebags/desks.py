@@ -1,10 +1,9 @@
 """A family that is poured and parted move by move."""
 
-from sharebags.bags import part, pour
 from sharebags.checks import check_family
 from sharebags.errors import NothingToUndo
 from sharebags.pourings import sharing_pairs
-from sharebags.steps import fewest_moves
+from sharebags.steps import fewest_moves, parted_as_told, poured_as_told
 
 
 class Box:
@@ -27,11 +26,11 @@ class Box:
 
     def pour(self, one, other):
         """Pour two bags that share a bead into one."""
-        self._families.append(pour(self.family, one, other))
+        self._families.append(poured_as_told(self.family, one, other))
 
     def part(self, index, bead, side):
         """Part a bag into bead with side, and bead with the bag's other beads."""
-        self._families.append(part(self.family, index, bead, side))
+        self._families.append(parted_as_told(self.family, index, bead, side))
 
     def undo(self):
         """Take back the last move that was not taken back."""

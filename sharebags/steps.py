@@ -1,8 +1,24 @@
-"""Moves one behind another: what lies one move away, and what some moves lead to."""
+"""Moves of families that are known to be families: what lies one move away, and what some moves lead to."""
 
-from sharebags.checks import makes_family
+from sharebags.checks import is_ascending, is_between, is_integer, makes_family
+from sharebags.errors import BadPart, BadPour
+from sharebags.masks import mask_of
 from sharebags.pourings import bead_count, finest_above, greatest_size, lies_below
 from sharebags.pourings import parted_at, poured_together, sharing_pairs
+
+
+def poured_as_told(family, one, other):
+    """The family with two bags poured into one, BadPour for values that do not tell two bags that share a bead."""
+    if not _may_be_poured(family, one, other):
+        raise BadPour()
+    return poured_together(family, (one, other))
+
+
+def parted_as_told(family, index, bead, side):
+    """The family with a bag parted into bead with side and bead with the others, BadPart for values that tell none."""
+    if not _may_be_parted(family, index, bead, side):
+        raise BadPart()
+    return parted_at(family, index, bead, side)
 
 
 def families_poured(family):
@@ -58,6 +74,27 @@ def next_sphere(spheres, most):
             if other not in met and greatest_size(other) <= most:
                 found[other] = True
     return sorted(found)
+
+
+def _may_be_poured(family, one, other):
+    """Whether two values are the indexes of two bags that share a bead, in either order."""
+    last = len(family) - 1
+    if not is_between(one, 0, last) or not is_between(other, 0, last):
+        return False
+    return one != other and (mask_of(family[one]) & mask_of(family[other])) != 0
+
+
+def _may_be_parted(family, index, bead, side):
+    """Whether index tells a bag, bead is one of its beads and side some, not all, of the others."""
+    if not is_between(index, 0, len(family) - 1):
+        return False
+    bag = family[index]
+    if not is_integer(bead) or bead not in bag:
+        return False
+    if not isinstance(side, tuple) or not 1 <= len(side) <= len(bag) - 2:
+        return False
+    others = [other for other in bag if other != bead]
+    return all(is_integer(other) and other in others for other in side) and is_ascending(side)
 
 
 def _sides(bag, bead):

@@ -43,6 +43,15 @@ def is_way(one, other, most, steps):
     return all(steps[k + 1] in naive.poured(steps[k]) + naive.parted(steps[k]) for k in range(len(steps) - 1))
 
 
+def shortest_ways(one, other):
+    """All shortest ways from one to other without a limit, as lists of families."""
+    if one == other:
+        return [[one]]
+    far = naive.distances(other)
+    near = [family for family in naive.poured(one) + naive.parted(one) if far[family] < far[one]]
+    return [[one, *steps] for family in near for steps in shortest_ways(family, other)]
+
+
 def some_cases(source, many):
     """Pairs of families of 5 beads with a limit that both keep to, and all of 2 to 4 beads."""
     for size in range(2, 5):
@@ -173,6 +182,18 @@ class ShowsTest(unittest.TestCase):
         self.assertIs(shows_way_within(one, other, 4, steps), True)
         self.assertIs(shows_way_within(one, other, 3, steps), False)
         self.assertEqual([distance_within(one, other, 4), distance_within(one, other, 3)], [2, distances(one, 3)[other]])
+
+    def test_ways_that_are_as_short_but_leave_the_limit(self):
+        families = [family for family in naive.families(4) if fits(family, 3)]
+        inside, outside = 0, 0
+        for one, other in product(families[::4], families):
+            if distances(one, 3)[other] == naive.distances(one)[other]:
+                for steps in shortest_ways(one, other):
+                    shown = all(fits(family, 3) for family in steps)
+                    self.assertIs(shows_way_within(one, other, 3, steps), shown)
+                    self.assertIs(shows_way_within(one, other, 4, steps), True)
+                    inside, outside = inside + shown, outside + (not shown)
+        self.assertGreater(min(inside, outside), 20)
 
 
 class WrongTest(unittest.TestCase):
